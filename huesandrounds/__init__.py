@@ -1,0 +1,1 @@
+"""Huesandrounds: hues, signs and rounds of bodies."""

@@ -1,0 +1,175 @@
+"""Slow and plain countings by the words of the document, to hold against the program."""
+
+from functools import lru_cache
+from itertools import combinations, permutations, product
+
+from tests.support import pair
+
+
+@lru_cache(maxsize=None)
+def _edges(body):
+    return tuple(sorted({pair(face, other) for face in range(len(body)) for other in body[face]}))
+
+
+def edges_of(body):
+    return list(_edges(body))
+
+
+def turned_of(body):
+    """All corners, each with its faces a, b, c of which c follows b in the ring of a, a the least one."""
+    found = {}
+    for face, ring in enumerate(body):
+        for at, other in enumerate(ring):
+            third = ring[(at + 1) % len(ring)]
+            if face == min(face, other, third):
+                found[tuple(sorted((face, other, third)))] = (face, other, third)
+    return found
+
+
+@lru_cache(maxsize=None)
+def _corners(body):
+    return tuple(sorted(turned_of(body)))
+
+
+def corners_of(body):
+    return list(_corners(body))
+
+
+def edges_at(corner):
+    a, b, c = corner
+    return [(a, b), (a, c), (b, c)]
+
+
+@lru_cache(maxsize=None)
+def ends_of(body, edge):
+    """Both ends of an edge, as a tuple."""
+    return tuple(corner for corner in corners_of(body) if edge[0] in corner and edge[1] in corner)
+
+
+def all_edge_hues(body):
+    """All edge hues, laid edge by edge."""
+    places = edges_of(body)
+    trios = [[places.index(edge) for edge in edges_at(corner)] for corner in corners_of(body)]
+    rows = [()]
+    for at in range(len(places)):
+        near = [item for trio in trios if at in trio for item in trio if item < at]
+        rows = [row + (hue,) for row in rows for hue in range(3) if hue not in [row[item] for item in near]]
+    return rows
+
+
+def all_hues_by(body, many):
+    """All face hues by so many hues, laid face by face."""
+    rows = [()]
+    for face in range(len(body)):
+        near = [other for other in body[face] if other < face]
+        rows = [row + (hue,) for row in rows for hue in range(many) if hue not in [row[item] for item in near]]
+    return rows
+
+
+def all_partings(body):
+    """All ways to part the faces into lots without faces that are around one another."""
+    ways = [[]]
+    for face in range(len(body)):
+        longer = []
+        for lots in ways:
+            for at, lot in enumerate(lots):
+                if not any(other in body[face] for other in lot):
+                    longer.append(lots[:at] + [lot + [face]] + lots[at + 1:])
+            longer.append(lots + [[face]])
+        ways = longer
+    return ways
+
+
+def all_pairings(body):
+    edges = edges_of(body)
+    corners = corners_of(body)
+    found = []
+    for some in combinations(edges, len(body) - 2):
+        if all(sum(edge in some for edge in edges_at(corner)) == 1 for corner in corners):
+            found.append(some)
+    return found
+
+
+def all_own_turns(body):
+    """All own turns, tried one by one."""
+    mirror = tuple(ring[:1] + ring[:0:-1] for ring in body)
+    found = []
+    for turn in permutations(range(len(body))):
+        rings = [None] * len(body)
+        for face, ring in enumerate(body):
+            row = [turn[item] for item in ring]
+            at = row.index(min(row))
+            rings[turn[face]] = tuple(row[at:] + row[:at])
+        if tuple(rings) in (body, mirror):
+            found.append((turn, tuple(rings)))
+    return found
+
+
+def is_ringless_course(body, course):
+    """Whether no face leads back to itself, by going on from each face as long as it goes."""
+    leads = {face: set() for face in range(len(body))}
+    for (low, high), way in zip(edges_of(body), course):
+        leads[low if way == 1 else high].add(high if way == 1 else low)
+    for start in range(len(body)):
+        met = set()
+        ahead = list(leads[start])
+        while ahead:
+            face = ahead.pop()
+            if face == start:
+                return False
+            if face not in met:
+                met.add(face)
+                ahead.extend(leads[face])
+    return True
+
+
+def sources_of(body, course):
+    """All faces to which no edge leads."""
+    aims = {high if way == 1 else low for (low, high), way in zip(edges_of(body), course)}
+    return [face for face in range(len(body)) if face not in aims]
+
+
+def courses(body):
+    return product((1, -1), repeat=len(edges_of(body)))
+
+
+def classes(starts, moves):
+    """The lots into which all values fall that moves lead into one another."""
+    left = set(starts)
+    found = []
+    while left:
+        lot = set()
+        ahead = [min(left)]
+        while ahead:
+            here = ahead.pop()
+            if here not in lot:
+                lot.add(here)
+                ahead.extend(moves(here))
+        found.append(lot)
+        left -= lot
+    return found
+
+
+def line_count(body, pairing, drawing):
+    """How many lines a drawing has, each one walked from edge to edge."""
+    ways = dict(zip(pairing, drawing))
+    left = [edge for edge in edges_of(body) if edge not in ways]
+    many = 0
+    while left:
+        many += 1
+        edge = start = left[0]
+        corner = ends_of(body, edge)[1]
+        while True:
+            left.remove(edge)
+            doubled = [item for item in edges_at(corner) if item in ways][0]
+            there = [item for item in ends_of(body, doubled) if item != corner][0]
+            face = [item for item in edge if item in doubled][0]
+            ahead = [item for item in edges_at(there) if item != doubled]
+            if ways[doubled] == 0:
+                edge = [item for item in ahead if face in item][0]
+            else:
+                edge = [item for item in ahead if face not in item][0]
+            corner = [item for item in ends_of(body, edge) if item != there][0]
+            if edge == start and edge not in left:
+                break
+    return many
