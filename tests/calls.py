@@ -6,9 +6,14 @@ Kinds of arguments are words. One with a question mark ahead takes any value: th
 import importlib
 
 from huesandrounds import errors
+from huesandrounds.allowed import denial
+from huesandrounds.arrows import right_arrows
 from huesandrounds.bodies import corners, edges
 from huesandrounds.cutting import seams, way_down
 from huesandrounds.facehues import first_face_hues, to_edges
+from huesandrounds.flows import flow_of
+from huesandrounds.lines import pairings
+from huesandrounds.signs import signs_of
 from tests.support import F, K, bent, deep, odd_integers, odd_values
 
 
@@ -24,11 +29,16 @@ class Call:
 
 
 ERRORS = {
-    "body": errors.InvalidBody, "face": errors.InvalidFace, "near": errors.InvalidFace, "turning": errors.InvalidTurning,
-    "edge": errors.InvalidEdge, "corner": errors.InvalidCorner, "spot": errors.InvalidSpot, "seam": errors.InvalidSeam,
+    "body": errors.InvalidBody, "face": errors.InvalidFace, "near": errors.InvalidFace,
+    "turning": errors.InvalidTurning, "edge": errors.InvalidEdge, "corner": errors.InvalidCorner, "spot": errors.InvalidSpot, "seam": errors.InvalidSeam,
     "hues": errors.InvalidHues, "hue2": errors.InvalidHue, "hue3": errors.InvalidHue, "exchange": errors.InvalidHue,
     "repaint": errors.InvalidHue, "unlike": errors.InvalidHue, "face_hues": errors.InvalidFaceHues,
-    "small": errors.InvalidNumber, "colours": errors.InvalidNumber,
+    "small": errors.InvalidNumber, "colours": errors.InvalidNumber, "signed": errors.InvalidNumber,
+    "golden": errors.InvalidNumber, "many": errors.InvalidNumber, "allowed": errors.InvalidAllowed,
+    "many_hues": errors.InvalidFaceHues, "many_hue": errors.InvalidHue, "flow": errors.InvalidFlow,
+    "signs": errors.InvalidSigns, "pairing": errors.InvalidPairing, "drawing": errors.InvalidDrawing,
+    "arrows": errors.InvalidArrows, "right": errors.InvalidArrows, "weights": errors.InvalidWeights,
+    "index": errors.InvalidIndex,
 }
 
 
@@ -40,6 +50,18 @@ def on_edge(body):
     """Arguments for what takes edge hues, an edge, and another hue than it has."""
     hues = hues_on(body)
     return (body, hues, edges(body)[1], (hues[1] + 1) % 3)
+
+
+def signs_on(body):
+    return signs_of(body, hues_on(body))
+
+
+def full(body):
+    return ((0, 1, 2, 3),) * len(body)
+
+
+def two(body):
+    return ((0, 1),) * len(body)
 
 
 def on_face(body):
@@ -90,6 +112,54 @@ CALLS = [
     Call("patches.patches", "body face_hues hue3 unlike", lambda body: (body, first_face_hues(body), 3, 0)),
     Call("patches.repainted", "body face_hues face repaint", on_face),
     Call("patches.paint_families", "body", lambda body: (body,), 7),
+    Call("polynomials.polynomial", "body", lambda body: (body,), 10),
+    Call("polynomials.value_at", "body signed", lambda body: (body, -10 ** 12), 10),
+    Call("polynomials.golden_at", "body golden", lambda body: (body, (1000, -1000)), 10),
+    Call("polynomials.count_ringless", "body", lambda body: (body,), 10),
+    Call("polynomials.count_from", "body face", lambda body: (body, len(body) - 1), 10),
+    Call("polynomials.is_ringless", "body ?course", lambda body: (body, (1,) * len(edges(body)))),
+    Call("allowed.is_allowed", "body ?allowed", lambda body: (body, full(body))),
+    Call("allowed.hues_with", "body allowed", lambda body: (body, full(body))),
+    Call("allowed.count_with", "body allowed", lambda body: (body, full(body))),
+    Call("allowed.denial", "body allowed", lambda body: (body, ((0, 1),) * len(body))),
+    Call("allowed.is_denial", "body allowed ?denial", lambda body: (body, two(body), denial(body, two(body)))),
+    Call("flows.is_flow", "body many ?flow", lambda body: (body, 7, flow_of(body, 7, first_face_hues(body)))),
+    Call("flows.flow_of", "body many many_hues", lambda body: (body, 10 ** 12, first_face_hues(body))),
+    Call("flows.hues_by_flow", "body many flow many_hue",
+         lambda body: (body, 7, flow_of(body, 7, first_face_hues(body)), 6)),
+    Call("flows.count_flows", "body many", lambda body: (body, 10 ** 12), 10),
+    Call("signs.is_signs", "body ?signs", lambda body: (body, signs_on(body))),
+    Call("signs.count_signs", "body", lambda body: (body,)),
+    Call("signs.signs_of", "body hues", lambda body: (body, hues_on(body))),
+    Call("signs.hues_of", "body signs hue2", lambda body: (body, signs_on(body), 2)),
+    Call("signs.all_signs", "body", lambda body: (body,), 9),
+    Call("signs.face_sums", "body signs", lambda body: (body, signs_on(body))),
+    Call("signs.corners_on", "body hues edge exchange", on_edge),
+    Call("lines.is_pairing", "body ?pairing", lambda body: (body, pairings(body)[0])),
+    Call("lines.pairings", "body", lambda body: (body,)),
+    Call("lines.count_lines", "body pairing drawing",
+         lambda body: (body, pairings(body)[-1], (1,) * (len(body) - 2))),
+    Call("lines.line_sums", "body pairing", lambda body: (body, pairings(body)[-1])),
+    Call("lines.signed_sum", "body pairing colours", lambda body: (body, pairings(body)[-1], 10 ** 12)),
+    Call("arrows.are_arrows", "body ?arrows", lambda body: (body, right_arrows(body))),
+    Call("arrows.are_right", "body ?right", lambda body: (body, right_arrows(body))),
+    Call("arrows.right_arrows", "body", lambda body: (body,)),
+    Call("arrows.count_right", "body", lambda body: (body,)),
+    Call("arrows.along", "body arrows", lambda body: (body, (-1,) * len(edges(body)))),
+    Call("arrows.turned_at", "body arrows corner", lambda body: (body, right_arrows(body), corners(body)[0])),
+    Call("arrows.between", "body right right", lambda body: (body, right_arrows(body), right_arrows(body)[:])),
+    Call("arrows.pairing_sign", "body arrows pairing", lambda body: (body, right_arrows(body), pairings(body)[0])),
+    Call("arrows.arrow_sum", "body arrows weights",
+         lambda body: (body, right_arrows(body), (10 ** 6,) * len(edges(body)))),
+    Call("arrows.pairing_sum", "body weights", lambda body: (body, (-10 ** 6,) * len(edges(body)))),
+    Call("pairings.count_pairings", "body", lambda body: (body,)),
+    Call("pairings.edge_share", "body edge", lambda body: (body, edges(body)[-1])),
+    Call("pairings.pairing_at", "body index", lambda body: (body, len(pairings(body)) - 1)),
+    Call("pairings.pairing_index", "body pairing", lambda body: (body, pairings(body)[-1])),
+    Call("pairings.pairings_at", "body corner", lambda body: (body, corners(body)[-1])),
+    Call("pairings.rings_left", "body pairing", lambda body: (body, pairings(body)[-1])),
+    Call("pairings.hues_borne", "body pairing", lambda body: (body, pairings(body)[-1])),
+    Call("pairings.pairings_of", "body hues", lambda body: (body, hues_on(body))),
 ]
 
 RANGES = {
@@ -99,12 +169,15 @@ RANGES = {
     "exchange": lambda args: [hue for hue in range(3) if hue != args[1][edges(args[0]).index(args[2])]],
     "repaint": lambda args: [hue for hue in range(4) if hue != args[1][args[2]]],
     "unlike": lambda args: [hue for hue in range(4) if hue != args[2]],
+    "signed": lambda args: range(-10 ** 12, 10 ** 12 + 1), "many": lambda args: range(1, 10 ** 12 + 1),
+    "many_hue": lambda args: range(args[1]), "index": lambda args: range(len(pairings(args[0]))),
 }
 
 # Further wrong values, of the form of right ones, for the bodies that the tests take.
 FALSE_FRIENDS = {
     "body": lambda body: [
-        body[::-1], body[:1] + body[2:], tuple(ring[::-1] for ring in body), tuple(ring[1:] + ring[:1] for ring in body),
+        body[::-1], body[:1] + body[2:], tuple(ring[::-1] for ring in body),
+        tuple(ring[1:] + ring[:1] for ring in body),
         ((1, 2), (0, 2), (0, 1)), body + body, ((),) * 5, ((1, 2, 3), (0, 2, 3), (0, 1, 3), (0, 1, 2)),
         body[:1] + ((0, 2, 3),) + body[2:], [list(ring) for ring in body], tuple(list(ring) for ring in body)],
     "hues": lambda body: [(0,) * len(hues_on(body)), hues_on(body)[1:] + (3,), hues_on(body)[:-1] + (-1,)],
@@ -117,8 +190,55 @@ FALSE_FRIENDS = {
         ((0, 1), 0), (corners(body)[0], len(body)), (list(corners(body)[0]), -1), (corners(body)[0],),
         (corners(body)[0], None), (corners(body)[0], True), corners(body)[0], (deep(tuple, 90), -1), ((True, 2), -1)],
     "seam": lambda body: [(0, -2), (-1, -1), (len(body), -1), (0, len(body)), (0, 0), (0, None), (0, True), (0, 1, 2)],
+    "golden": lambda body: [(1001, 0), (0, -1001), (0, 1, 2), (1, None), (True, 0), [1, 1]],
+    "course": lambda body: [(0,) * len(edges(body)), (1, 2) * (len(edges(body)) // 2), (1, True) * 3, ringed(body)],
+    "allowed": lambda body: [
+        ((1, 0),) * len(body), ((0, 0),) * len(body), ((0, 4),) * len(body), ((-1, 0),) * len(body),
+        ((0, True),) * len(body), ((False,),) * len(body), ([0, 1],) * len(body), (0,) * len(body), full(body) + ((),)],
+    "denial": lambda body: list(range(len(body))) + [
+        (0, ()), (0, (1,)), (0, (1, 1, 1)), (0, (0, 0)), (0, [1, 1]), (0, 1), (0, (1, 1), 1), ((0, (1, 1)),)],
+    "flow": lambda body: [(0,) * len(edges(body)), (7,) * len(edges(body)), (1,) * len(edges(body))],
+    "many_hues": lambda body: [(0,) * len(body), (10 ** 12,) + tuple(range(1, len(body))), (-1, 0, 1, 2, 3, 4)],
+    "signs": lambda body: [
+        (0,) * len(corners(body)), (2, -2) * (len(corners(body)) // 2), signs_on(body)[1:] + (-signs_on(body)[0],)],
+    "pairing": lambda body: [
+        pairings(body)[0][::-1], (edges(body)[0],) * (len(body) - 2), tuple(edges(body)[:len(body) - 2]), (0, 1),
+        tuple(edges(body)), tuple(edge[::-1] for edge in pairings(body)[0]), pairings(body)[0][:-1] + ((0, 99),)],
+    "drawing": lambda body: [(2,) * (len(body) - 2), (1, -1) * (len(body) // 2 - 1), (True,) * (len(body) - 2)],
+    "arrows": lambda body: [(0,) * len(edges(body)), (2,) * len(edges(body)), (1,) * len(corners(body)) + (None,)],
+    "right": lambda body: [(0,) * len(edges(body)), right_arrows(body)[:-1] + (-right_arrows(body)[-1],)],
+    "weights": lambda body: [
+        (10 ** 6 + 1,) * len(edges(body)), (0,) * (len(edges(body)) - 1) + (-10 ** 6 - 1,),
+        (False,) * len(edges(body))],
     "way": lambda body: [way_down(body)[::-1] + ((0, 0),), way_down(body)[:-1] + ((0, len(body)),)],
 }
+
+
+def are_numbers(value, length, most):
+    if type(value) is not tuple or len(value) != length:
+        return False
+    return all(type(item) is int and -most <= item <= most for item in value)
+
+
+def are_hue_rows(value, length):
+    if type(value) is not tuple or len(value) != length:
+        return False
+    return all(type(item) is tuple and item in ((), (0, 1), (0, 1, 2, 3)) for item in value)
+
+
+# Some values that small faults make are right ones by chance.
+CHANCES = {
+    "golden": lambda value, fine: are_numbers(value, 2, 1000),
+    "weights": lambda value, fine: are_numbers(value, len(fine), 10 ** 6),
+    "allowed": lambda value, fine: are_hue_rows(value, len(fine)),
+    "many_hues": lambda value, fine: are_numbers(value, len(fine), 10 ** 12 - 1) and min(value) >= 0,
+}
+
+
+def ringed(body):
+    """A course that leads around the corner of the faces 0, 1 and another one."""
+    third = [face for face in body[0] if face in body[1]][0]
+    return tuple(-1 if edge == (0, third) else 1 for edge in edges(body))
 
 
 def not_tied(body):
@@ -134,7 +254,8 @@ def wrong_values(call, args, at):
         given = odd_values() + odd_integers() + list(range(-2, 15)) + [10 ** 12 + 1, -(10 ** 12) - 1]
         return [value for value in given if type(value) is not int or value not in fine]
     body = args[0] if kind != "body" else args[at]
-    return odd_values() + odd_integers() + bent(args[at]) + FALSE_FRIENDS[kind](body)
+    found = odd_values() + odd_integers() + bent(args[at]) + FALSE_FRIENDS[kind](body)
+    return [value for value in found if not (kind in CHANCES and CHANCES[kind](value, args[at]))]
 
 
 def cases():

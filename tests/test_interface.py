@@ -15,6 +15,21 @@ INTERFACE = {
     "facehues": "is_face_hues(body,value) first_face_hues(body) all_face_hues(body) lots(body) "
                 "count_face_hues(body,many) to_edges(body,face_hues) to_faces(body,hues,hue) three_hues(body)",
     "patches": "patches(body,face_hues,one_hue,other_hue) repainted(body,face_hues,face,hue) paint_families(body)",
+    "polynomials": "polynomial(body) value_at(body,number) golden_at(body,pair) count_ringless(body) "
+                   "count_from(body,face) is_ringless(body,value)",
+    "allowed": "is_allowed(body,value) hues_with(body,allowed) count_with(body,allowed) denial(body,allowed) "
+               "is_denial(body,allowed,value)",
+    "flows": "is_flow(body,many,value) flow_of(body,many,value) hues_by_flow(body,many,flow,hue) "
+             "count_flows(body,many)",
+    "signs": "is_signs(body,value) count_signs(body) signs_of(body,hues) hues_of(body,signs,hue) all_signs(body) "
+             "face_sums(body,signs) corners_on(body,hues,edge,hue)",
+    "lines": "is_pairing(body,value) pairings(body) count_lines(body,pairing,drawing) line_sums(body,pairing) "
+             "signed_sum(body,pairing,number)",
+    "arrows": "are_arrows(body,value) are_right(body,value) right_arrows(body) count_right(body) along(body,arrows) "
+              "turned_at(body,arrows,corner) between(body,arrows,others) pairing_sign(body,arrows,pairing) "
+              "arrow_sum(body,arrows,weights) pairing_sum(body,weights)",
+    "pairings": "count_pairings(body) edge_share(body,edge) pairing_at(body,index) pairing_index(body,pairing) "
+                "pairings_at(body,corner) rings_left(body,pairing) hues_borne(body,pairing) pairings_of(body,hues)",
 }
 
 

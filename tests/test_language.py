@@ -10,19 +10,19 @@ import unittest
 FOLDER = pathlib.Path(__file__).parent.parent / "huesandrounds"
 FILES = sorted(FOLDER.glob("*.py"))
 LIBRARY = {"math": {"gcd", "lcm", "isqrt", "comb", "perm", "factorial"}}
-BUILTINS = set("""len range enumerate zip min max sum abs sorted reversed int str bool list tuple dict set isinstance ord
-repr any all divmod ValueError super""".split())
-METHODS = set("""append clear copy count endswith extend find get index insert isdigit items join keys pop replace setdefault
-split startswith strip values zfill bit_length""".split())
+BUILTINS = set("""len range enumerate zip min max sum abs sorted reversed int str bool list tuple dict set isinstance
+ord repr any all divmod ValueError super""".split())
+METHODS = set("""append clear copy count endswith extend find get index insert isdigit items join keys pop replace
+setdefault split startswith strip values zfill bit_length""".split())
 CHANGING = {"append", "clear", "extend", "insert", "pop", "remove", "reverse", "setdefault", "update", "sort", "add"}
 WORDS = set("""type typing enum Enum IntEnum StrEnum Flag IntFlag Generic Protocol ABC ABCMeta namedtuple NamedTuple
 TypedDict abstractmethod dataclass overload contextmanager metaclass Meta _wall""".split())
 NAMES = set("""register mro elements open input law eval exec exit compile dir vars id hash type super globals locals
 getattr setattr help copyright credits license quit os sys gc next iter""".split())
 NODES = (
-    ast.Module, ast.Expr, ast.Constant, ast.ImportFrom, ast.alias, ast.FunctionDef, ast.arguments, ast.arg, ast.ClassDef,
-    ast.Assign, ast.Name, ast.Load, ast.Store, ast.Return, ast.If, ast.While, ast.For, ast.Break, ast.Continue, ast.Raise,
-    ast.Call, ast.keyword, ast.Attribute, ast.Subscript, ast.Slice, ast.Tuple, ast.List, ast.Dict, ast.ListComp,
+    ast.Module, ast.Expr, ast.Constant, ast.ImportFrom, ast.alias, ast.FunctionDef, ast.arguments, ast.arg,
+    ast.ClassDef, ast.Assign, ast.Name, ast.Load, ast.Store, ast.Return, ast.If, ast.While, ast.For, ast.Break, ast.Continue,
+    ast.Raise, ast.Call, ast.keyword, ast.Attribute, ast.Subscript, ast.Slice, ast.Tuple, ast.List, ast.Dict, ast.ListComp,
     ast.SetComp, ast.comprehension, ast.IfExp, ast.BoolOp, ast.And, ast.Or, ast.BinOp, ast.UnaryOp, ast.Compare,
     ast.JoinedStr, ast.FormattedValue, ast.Add, ast.Sub, ast.Mult, ast.FloorDiv, ast.Mod, ast.Pow, ast.LShift,
     ast.BitXor, ast.BitAnd, ast.BitOr, ast.RShift, ast.Not, ast.USub, ast.Eq, ast.NotEq, ast.Lt, ast.LtE, ast.Gt,

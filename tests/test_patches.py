@@ -81,7 +81,8 @@ class PaintFamilies(unittest.TestCase):
     def test_families(self):
         for body in some_bodies(4, 7, 2) + [F, K]:
             slow = classes(all_face_hues(body), lambda row: {
-                slow_repainted(body, row, face, hue) for face in range(len(body)) for hue in range(4) if hue != row[face]})
+                slow_repainted(body, row, face, hue)
+                for face in range(len(body)) for hue in range(4) if hue != row[face]})
             self.assertEqual(paint_families(body), len(slow))
             self.assertEqual(paint_families(body), families(body))
 
