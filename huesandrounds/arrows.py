@@ -5,8 +5,7 @@ from huesandrounds.bodies import check_body
 from huesandrounds.checking import check_corner
 from huesandrounds.errors import InvalidArrows, InvalidWeights
 from huesandrounds.lines import check_pairing, pairing_list
-from huesandrounds.ordering import new_order
-from huesandrounds.structure import corner_edges, corner_list, edge_ends, edge_places, followers, pair
+from huesandrounds.structure import corner_edges, corner_list, edge_ends, edge_places, followers, pair, tree_from_zero
 
 MOST_WEIGHT = 10 ** 6
 
@@ -46,15 +45,12 @@ def right_arrows(body):
     """Any right arrows."""
     check_body(body)
     places = edge_places(body)
-    order = new_order(body, 0, body[0][0], 1)
     arrows = (1,) * (3 * len(body) - 6)
-    # Each face is put right by its edge with a face that comes later here. The face 0 is right then by itself:
-    # each edge goes along at one of its faces, so all edges and all faces are odd, or even, in number together.
-    for at in range(len(order) - 1, 0, -1):
-        face = order[at]
+    # Each face is put right by its edge with the face ahead. The face 0 is right then by itself: each edge goes
+    # along at one of its faces, so all edges and all faces are odd, or even, in number together.
+    for ahead, face in tree_from_zero(body)[::-1]:
         if _along(body, arrows)[face] % 2 == 0:
-            source = min([order.index(other) for other in body[face]])
-            arrows = _turned(arrows, (places[pair(face, order[source])],))
+            arrows = _turned(arrows, (places[pair(ahead, face)],))
     return arrows
 
 

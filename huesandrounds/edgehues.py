@@ -6,7 +6,7 @@ from huesandrounds.checking import check_edge, check_hue, check_other_hue, check
 from huesandrounds.errors import InvalidHues
 from huesandrounds.extending import hues_from_zero, mixed
 from huesandrounds.forms import turn_list
-from huesandrounds.structure import corner_edges, edge_list, edge_places, edge_ties, lumps, pair, reach
+from huesandrounds.structure import corner_edges, count_tied, edge_list, edge_places, edge_ties, lumps, pair, reach
 
 MOST_FOR_HUES = 9
 MOST_FOR_KINDS = 7
@@ -54,19 +54,19 @@ def hue_list(body):
 
 def chain(body, hues, edge, hue):
     """The chain of an edge's own hue and another one that has the edge."""
-    at = _checked_place(body, hues, edge, hue)
+    at = checked_place(body, hues, edge, hue)
     places = edge_list(body)
     return tuple([places[item] for item in chain_at(body, hues, at, hue)])
 
 
 def exchanged(body, hues, edge, hue):
     """The edge hues behind the exchange of the chain that `chain` tells."""
-    at = _checked_place(body, hues, edge, hue)
+    at = checked_place(body, hues, edge, hue)
     return swapped(hues, chain_at(body, hues, at, hue), hues[at], hue)
 
 
-def _checked_place(body, hues, edge, hue):
-    """The place of an edge, behind all checks that `chain` and `exchanged` make."""
+def checked_place(body, hues, edge, hue):
+    """The place of an edge, behind all checks of what takes a chain of its own hue and another one."""
     check_body(body)
     check_hues(body, hues)
     check_edge(body, edge)
@@ -162,14 +162,7 @@ def families(body):
     """How many families the edge hues of a body are."""
     check_body(body)
     check_size(body, MOST_FOR_KINDS)
-    met = {}
-    many = 0
-    for hues in hue_list(body):
-        if hues not in met:
-            many = many + 1
-            for other in paths_from(body, hues):
-                met[other] = True
-    return many
+    return count_tied({hues: [other for _, other in _exchanges(body, hues)] for hues in hue_list(body)})
 
 
 def steps(body, hues, aim):

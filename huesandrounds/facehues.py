@@ -6,7 +6,7 @@ from huesandrounds.checking import check_hue, check_number, check_size
 from huesandrounds.edgehues import check_hues
 from huesandrounds.errors import InvalidFaceHues
 from huesandrounds.extending import FOUR_HUES, face_hues_within, hues_from_zero, mixed
-from huesandrounds.structure import edge_list, edge_places, pair
+from huesandrounds.structure import edge_list, edge_places, pair, tree_from_zero
 
 MOST_FOR_LIST = 8
 MOST_FOR_LOTS = 10
@@ -106,15 +106,8 @@ def to_faces(body, hues, hue):
     check_hue(hue, 3)
     places = edge_places(body)
     found = {0: hue}
-    queue = [0]
-    at = 0
-    while at < len(queue):
-        face = queue[at]
-        for other in body[face]:
-            if other not in found:
-                found[other] = found[face] ^ (hues[places[pair(face, other)]] + 1)
-                queue.append(other)
-        at = at + 1
+    for ahead, face in tree_from_zero(body):
+        found[face] = found[ahead] ^ (hues[places[pair(ahead, face)]] + 1)
     return tuple([found[face] for face in range(len(body))])
 
 

@@ -5,7 +5,7 @@ from huesandrounds.bodies import check_body
 from huesandrounds.checking import check_hue, check_number, check_size
 from huesandrounds.errors import InvalidFaceHues, InvalidFlow
 from huesandrounds.facehues import MOST_FOR_LOTS, MOST_HUES, are_face_hues, count_by
-from huesandrounds.structure import edge_list, edge_places, pair, turned_corners
+from huesandrounds.structure import edge_list, edge_places, pair, tree_from_zero, turned_corners
 
 
 def is_flow(body, many, value):
@@ -30,16 +30,8 @@ def hues_by_flow(body, many, flow, hue):
     check_hue(hue, many - 1)
     places = edge_places(body)
     found = {0: hue}
-    queue = [0]
-    at = 0
-    while at < len(queue):
-        face = queue[at]
-        for other in body[face]:
-            if other not in found:
-                step = flow[places[pair(face, other)]]
-                found[other] = (found[face] + step if face < other else found[face] - step) % many
-                queue.append(other)
-        at = at + 1
+    for ahead, face in tree_from_zero(body):
+        found[face] = (found[ahead] + _step(flow, places, ahead, face)) % many
     return tuple([found[face] for face in range(len(body))])
 
 

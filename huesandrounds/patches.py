@@ -4,7 +4,7 @@ from huesandrounds.bodies import check_body
 from huesandrounds.checking import check_face, check_hue, check_other_hue, check_size
 from huesandrounds.edgehues import swapped
 from huesandrounds.facehues import check_face_hues, face_hue_list
-from huesandrounds.structure import lumps, reach
+from huesandrounds.structure import count_tied, lumps, reach
 
 MOST_FOR_FAMILIES = 7
 HUE_PAIRS = ((0, 1), (0, 2), (0, 3), (1, 2), (1, 3), (2, 3))
@@ -34,29 +34,7 @@ def paint_families(body):
     """How many paint families there are."""
     check_body(body)
     check_size(body, MOST_FOR_FAMILIES)
-    met = {}
-    many = 0
-    for face_hues in face_hue_list(body):
-        if face_hues not in met:
-            many = many + 1
-            for other in _family(body, face_hues):
-                met[other] = True
-    return many
-
-
-def _family(body, face_hues):
-    """A list of all face hues of one paint family with some."""
-    met = {face_hues: True}
-    queue = [face_hues]
-    at = 0
-    while at < len(queue):
-        here = queue[at]
-        for other in _repaintings(body, here):
-            if other not in met:
-                met[other] = True
-                queue.append(other)
-        at = at + 1
-    return queue
+    return count_tied({face_hues: _repaintings(body, face_hues) for face_hues in face_hue_list(body)})
 
 
 def _repaintings(body, face_hues):

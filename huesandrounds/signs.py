@@ -2,11 +2,11 @@
 
 from huesandrounds.basics import is_sign_row
 from huesandrounds.bodies import check_body
-from huesandrounds.checking import check_edge, check_hue, check_other_hue, check_size
-from huesandrounds.edgehues import chain_at, check_hues, hue_list
+from huesandrounds.checking import check_hue, check_size
+from huesandrounds.edgehues import chain_at, check_hues, checked_place, hue_list
 from huesandrounds.errors import InvalidSigns
 from huesandrounds.extending import hues_from_zero
-from huesandrounds.structure import corner_edges, corner_list, edge_places, turned_edges
+from huesandrounds.structure import corner_edges, corner_list, turned_edges
 
 MOST_FOR_SIGNS = 9
 
@@ -86,11 +86,6 @@ def sums_at_faces(body, row):
 
 def corners_on(body, hues, edge, hue):
     """The ascending tuple of all corners on the chain of an edge's own hue and another one that has the edge."""
-    check_body(body)
-    check_hues(body, hues)
-    check_edge(body, edge)
-    at = edge_places(body)[edge]
-    check_other_hue(hue, hues[at], 2)
-    linked = chain_at(body, hues, at, hue)
+    linked = chain_at(body, hues, checked_place(body, hues, edge, hue), hue)
     on_chain = [any([item in linked for item in row]) for row in corner_edges(body)]
     return tuple([corner for corner, met in zip(corner_list(body), on_chain) if met])

@@ -138,3 +138,29 @@ def lumps(ties, kept):
                 met[place] = True
             found.append(lump)
     return found
+
+
+def count_tied(links):
+    """Into how many lots the keys of a dict fall, given for each one a list of those tied to it."""
+    places = {}
+    for at, key in enumerate(list(links)):
+        places[key] = at
+    ties = [[places[other] for other in links[key]] for key in links]
+    return len(lumps(ties, [True for _ in ties]))
+
+
+def tree_from_zero(body):
+    """For each face but the face 0 a pair (ahead, face), in an order in which each face ahead is 0 or has come."""
+    met = {0: True}
+    found = []
+    queue = [0]
+    at = 0
+    while at < len(queue):
+        ahead = queue[at]
+        for face in body[ahead]:
+            if face not in met:
+                met[face] = True
+                found.append((ahead, face))
+                queue.append(face)
+        at = at + 1
+    return found

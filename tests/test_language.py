@@ -23,7 +23,7 @@ NODES = (
     ast.Module, ast.Expr, ast.Constant, ast.ImportFrom, ast.alias, ast.FunctionDef, ast.arguments, ast.arg,
     ast.ClassDef, ast.Assign, ast.Name, ast.Load, ast.Store, ast.Return, ast.If, ast.While, ast.For, ast.Break, ast.Continue,
     ast.Raise, ast.Call, ast.keyword, ast.Attribute, ast.Subscript, ast.Slice, ast.Tuple, ast.List, ast.Dict, ast.ListComp,
-    ast.SetComp, ast.comprehension, ast.IfExp, ast.BoolOp, ast.And, ast.Or, ast.BinOp, ast.UnaryOp, ast.Compare,
+    ast.DictComp, ast.SetComp, ast.comprehension, ast.IfExp, ast.BoolOp, ast.And, ast.Or, ast.BinOp, ast.UnaryOp, ast.Compare,
     ast.JoinedStr, ast.FormattedValue, ast.Add, ast.Sub, ast.Mult, ast.FloorDiv, ast.Mod, ast.Pow, ast.LShift,
     ast.BitXor, ast.BitAnd, ast.BitOr, ast.RShift, ast.Not, ast.USub, ast.Eq, ast.NotEq, ast.Lt, ast.LtE, ast.Gt,
     ast.GtE, ast.In, ast.NotIn, ast.Is, ast.IsNot)
