@@ -34,10 +34,10 @@ def paint_families(body):
     """How many paint families there are."""
     check_body(body)
     check_size(body, MOST_FOR_FAMILIES)
-    return count_tied({face_hues: _repaintings(body, face_hues) for face_hues in face_hue_list(body)})
+    return count_tied({face_hues: repaintings(body, face_hues) for face_hues in face_hue_list(body)})
 
 
-def _repaintings(body, face_hues):
+def repaintings(body, face_hues):
     """A list of all face hues to which repainting one patch leads."""
     found = []
     for one, other in HUE_PAIRS:

@@ -30,15 +30,15 @@ class Call:
 
 ERRORS = {
     "body": errors.InvalidBody, "face": errors.InvalidFace, "near": errors.InvalidFace,
-    "turning": errors.InvalidTurning, "edge": errors.InvalidEdge, "corner": errors.InvalidCorner, "spot": errors.InvalidSpot, "seam": errors.InvalidSeam,
-    "hues": errors.InvalidHues, "hue2": errors.InvalidHue, "hue3": errors.InvalidHue, "exchange": errors.InvalidHue,
-    "repaint": errors.InvalidHue, "unlike": errors.InvalidHue, "face_hues": errors.InvalidFaceHues,
-    "small": errors.InvalidNumber, "colours": errors.InvalidNumber, "signed": errors.InvalidNumber,
-    "golden": errors.InvalidNumber, "many": errors.InvalidNumber, "allowed": errors.InvalidAllowed,
-    "many_hues": errors.InvalidFaceHues, "many_hue": errors.InvalidHue, "flow": errors.InvalidFlow,
-    "signs": errors.InvalidSigns, "pairing": errors.InvalidPairing, "drawing": errors.InvalidDrawing,
-    "arrows": errors.InvalidArrows, "right": errors.InvalidArrows, "weights": errors.InvalidWeights,
-    "index": errors.InvalidIndex,
+    "turning": errors.InvalidTurning, "edge": errors.InvalidEdge, "corner": errors.InvalidCorner,
+    "spot": errors.InvalidSpot, "seam": errors.InvalidSeam, "hues": errors.InvalidHues, "hue2": errors.InvalidHue,
+    "hue3": errors.InvalidHue, "exchange": errors.InvalidHue, "repaint": errors.InvalidHue,
+    "unlike": errors.InvalidHue, "face_hues": errors.InvalidFaceHues, "small": errors.InvalidNumber,
+    "colours": errors.InvalidNumber, "signed": errors.InvalidNumber, "golden": errors.InvalidNumber,
+    "many": errors.InvalidNumber, "allowed": errors.InvalidAllowed, "many_hues": errors.InvalidFaceHues,
+    "many_hue": errors.InvalidHue, "flow": errors.InvalidFlow, "signs": errors.InvalidSigns,
+    "pairing": errors.InvalidPairing, "drawing": errors.InvalidDrawing, "arrows": errors.InvalidArrows,
+    "right": errors.InvalidArrows, "weights": errors.InvalidWeights, "index": errors.InvalidIndex,
 }
 
 
@@ -183,7 +183,9 @@ FALSE_FRIENDS = {
     "hues": lambda body: [(0,) * len(hues_on(body)), hues_on(body)[1:] + (3,), hues_on(body)[:-1] + (-1,)],
     "face_hues": lambda body: [
         (0,) * len(body), tuple(range(len(body)))[::-1] if len(body) > 4 else (0, 1, 2, 4), (-1,) + (0, 1, 2) * 3],
-    "edge": lambda body: [(1, 0), (0, 0), (0, len(body)), (-1, 0), (0, 1, 2), [0, 1]] + not_tied(body),
+    "edge": lambda body: not_tied(body) + [
+        (1, 0), (0, 0), (0, len(body)), (len(body), len(body) + 1), (len(body) - 1, len(body)), (-1, 0), (0, 1, 2),
+        [0, 1]],
     "corner": lambda body: [(0, 1), (0, 0, 1), corners(body)[0][::-1], (0, 1, len(body)), list(corners(body)[0])],
     "spot": lambda body: [
         ((0, 1, 2, 3), -1), ((0,), -1), ((1, 0), -1), (corners(body)[0][::-1], -1), (corners(body)[0], -2),

@@ -1,7 +1,7 @@
 """Bodies, their edges, corners and belts."""
 
 import unittest
-from itertools import combinations
+from itertools import combinations, permutations, product
 
 from huesandrounds.bodies import belts, corners, counts_of, edges, is_body
 from huesandrounds.cutting import cut, healed, seams, spots
@@ -73,6 +73,18 @@ class IsBody(unittest.TestCase):
             for face in range(len(body)):
                 for number, ring in enumerate(odd_values() + odd_integers() + bent(body[face])):
                     self.assertIs(is_body(body[:face] + (ring,) + body[face + 1:]), False, number)
+
+    def all_rings(self, items):
+        return [row for size in (3, 4) for row in permutations(items, size) if row[0] == min(row)]
+
+    def test_all_rings_of_few_faces(self):
+        for body, many in ((F, 2), (P, 20)):
+            fine = {renamed(some, names) for some in (body, mirrored(body)) for names in permutations(range(len(body)))}
+            self.assertEqual(len(fine), many)
+            rows = [self.all_rings([item for item in range(len(body)) if item != face]) for face in range(len(body))]
+            sides = 6 * len(body) - 12
+            found = {rings for rings in product(*rows) if sum(map(len, rings)) == sides and is_body(rings)}
+            self.assertEqual(found, fine)
 
     def test_two_places_of_a_ring_exchanged(self):
         for body in (P, K, Q):

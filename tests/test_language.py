@@ -21,12 +21,12 @@ NAMES = set("""register mro elements open input law eval exec exit compile dir v
 getattr setattr help copyright credits license quit os sys gc next iter""".split())
 NODES = (
     ast.Module, ast.Expr, ast.Constant, ast.ImportFrom, ast.alias, ast.FunctionDef, ast.arguments, ast.arg,
-    ast.ClassDef, ast.Assign, ast.Name, ast.Load, ast.Store, ast.Return, ast.If, ast.While, ast.For, ast.Break, ast.Continue,
-    ast.Raise, ast.Call, ast.keyword, ast.Attribute, ast.Subscript, ast.Slice, ast.Tuple, ast.List, ast.Dict, ast.ListComp,
-    ast.DictComp, ast.SetComp, ast.comprehension, ast.IfExp, ast.BoolOp, ast.And, ast.Or, ast.BinOp, ast.UnaryOp, ast.Compare,
-    ast.JoinedStr, ast.FormattedValue, ast.Add, ast.Sub, ast.Mult, ast.FloorDiv, ast.Mod, ast.Pow, ast.LShift,
-    ast.BitXor, ast.BitAnd, ast.BitOr, ast.RShift, ast.Not, ast.USub, ast.Eq, ast.NotEq, ast.Lt, ast.LtE, ast.Gt,
-    ast.GtE, ast.In, ast.NotIn, ast.Is, ast.IsNot)
+    ast.ClassDef, ast.Assign, ast.Name, ast.Load, ast.Store, ast.Return, ast.If, ast.While, ast.For, ast.Break,
+    ast.Continue, ast.Raise, ast.Call, ast.keyword, ast.Attribute, ast.Subscript, ast.Slice, ast.Tuple, ast.List,
+    ast.Dict, ast.ListComp, ast.DictComp, ast.SetComp, ast.comprehension, ast.IfExp, ast.BoolOp, ast.And, ast.Or,
+    ast.BinOp, ast.UnaryOp, ast.Compare, ast.JoinedStr, ast.FormattedValue, ast.Add, ast.Sub, ast.Mult,
+    ast.FloorDiv, ast.Mod, ast.Pow, ast.LShift, ast.BitXor, ast.BitAnd, ast.BitOr, ast.RShift, ast.Not, ast.USub,
+    ast.Eq, ast.NotEq, ast.Lt, ast.LtE, ast.Gt, ast.GtE, ast.In, ast.NotIn, ast.Is, ast.IsNot)
 ITERATED = {"zip", "enumerate", "reversed", "range"}
 
 

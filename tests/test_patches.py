@@ -4,11 +4,12 @@ import unittest
 from itertools import permutations
 
 from huesandrounds.bodies import edges
-from huesandrounds.edgehues import families, hue_rings
+from huesandrounds.edgehues import families, hue_rings, paths_from
 from huesandrounds.errors import InvalidHue, TooMany
 from huesandrounds.facehues import all_face_hues, first_face_hues, is_face_hues, to_edges
-from huesandrounds.patches import paint_families, patches, repainted
-from tests.brute import all_hues_by, classes
+from huesandrounds.patches import paint_families, patches, repainted, repaintings
+from huesandrounds.structure import count_tied
+from tests.brute import all_edge_hues, all_hues_by, classes
 from tests.support import F, K, P, ball, drum, some_bodies
 
 
@@ -85,6 +86,21 @@ class PaintFamilies(unittest.TestCase):
                 for face in range(len(body)) for hue in range(4) if hue != row[face]})
             self.assertEqual(paint_families(body), len(slow))
             self.assertEqual(paint_families(body), families(body))
+
+    def test_all_repaintings(self):
+        for body in some_bodies(4, 8, 1) + [ball()]:
+            for row in all_hues_by(body, 4)[::19]:
+                slow = {slow_repainted(body, row, face, hue)
+                        for face in range(len(body)) for hue in range(4) if hue != row[face]}
+                self.assertEqual(set(repaintings(body, row)) - {row}, slow)
+
+    def test_several_families(self):
+        # All bodies of at most seven faces are of one family; greater ones show that families are told apart.
+        body = ball()
+        paints = {row: repaintings(body, row) for row in all_hues_by(body, 4)}
+        slow = classes(all_edge_hues(body), lambda hues: paths_from(body, hues))
+        self.assertGreater(len(slow), 1)
+        self.assertEqual(count_tied(paints), len(slow))
 
     def test_seven_faces_are_the_most(self):
         self.assertEqual(paint_families(drum(5)), 1)
