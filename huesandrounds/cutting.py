@@ -180,10 +180,10 @@ def _closed_up(follow, face):
     """Followers in which all faces above a face that is gone have numbers less by 1."""
     lower = {}
     for one, other in follow:
-        lower[(_lowered(one, face), _lowered(other, face))] = _lowered(follow[(one, other)], face)
+        lower[(lowered(one, face), lowered(other, face))] = lowered(follow[(one, other)], face)
     return lower
 
 
-def _lowered(number, face):
+def lowered(number, face):
     """The number of a face behind another one is gone."""
     return number - 1 if number > face else number

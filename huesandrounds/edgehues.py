@@ -6,7 +6,8 @@ from huesandrounds.checking import check_edge, check_hue, check_other_hue, check
 from huesandrounds.errors import InvalidHues
 from huesandrounds.extending import hues_from_zero, mixed
 from huesandrounds.forms import turn_list
-from huesandrounds.structure import corner_edges, count_tied, edge_list, edge_places, edge_ties, lumps, pair, reach
+from huesandrounds.structure import (corner_edges, count_tied, edge_list, edge_places, edge_ties, lumps, pair, reach,
+                                     ways_from)
 
 MOST_FOR_HUES = 9
 MOST_FOR_KINDS = 7
@@ -176,17 +177,7 @@ def steps(body, hues, aim):
 
 def paths_from(body, hues):
     """For all edge hues of one family with some, a tuple of as few exchanges as lead there."""
-    paths = {hues: ()}
-    queue = [hues]
-    at = 0
-    while at < len(queue):
-        here = queue[at]
-        for step, other in _exchanges(body, here):
-            if other not in paths:
-                paths[other] = paths[here] + (step,)
-                queue.append(other)
-        at = at + 1
-    return paths
+    return ways_from({row: _exchanges(body, row) for row in hue_list(body)}, hues)
 
 
 def _exchanges(body, hues):

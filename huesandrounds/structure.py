@@ -51,6 +51,11 @@ def edge_list(body):
     return [(face, other) for face in range(len(body)) for other in sorted(body[face]) if face < other]
 
 
+def rest_of(body, some):
+    """The ascending tuple of all edges but some."""
+    return tuple([edge for edge in edge_list(body) if edge not in some])
+
+
 def edge_places(body):
     """For each edge its place in the list of all edges."""
     places = {}
@@ -102,6 +107,13 @@ def edge_ends(body):
     return ends
 
 
+def corner_ties(body):
+    """For each corner, in ascending order, the places of the corners at the other ends of its three edges."""
+    ends = edge_ends(body)
+    around = corner_edges(body)
+    return [tuple([ends[edge][0] + ends[edge][1] - at for edge in row]) for at, row in enumerate(around)]
+
+
 def edge_ties(body):
     """For each edge, in ascending order, the places of all edges that have a corner with it."""
     ties = [() for _ in edge_list(body)]
@@ -147,6 +159,21 @@ def count_tied(links):
         places[key] = at
     ties = [[places[other] for other in links[key]] for key in links]
     return len(lumps(ties, [True for _ in ties]))
+
+
+def ways_from(links, start):
+    """For each key to which steps lead from one, a tuple of as few as do; a dict tells pairs (step, key)."""
+    ways = {start: ()}
+    queue = [start]
+    at = 0
+    while at < len(queue):
+        here = queue[at]
+        for step, there in links[here]:
+            if there not in ways:
+                ways[there] = ways[here] + (step,)
+                queue.append(there)
+        at = at + 1
+    return ways
 
 
 def tree_from_zero(body):

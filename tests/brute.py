@@ -173,3 +173,70 @@ def line_count(body, pairing, drawing):
             if edge == start and edge not in left:
                 break
     return many
+
+
+@lru_cache(maxsize=None)
+def near_of(body, corner):
+    """The corners at the other ends of the edges of a corner, as a list that is only read."""
+    return [other for edge in edges_at(corner) for other in ends_of(body, edge) if other != corner]
+
+
+def all_paths(body, start):
+    """All tuples of all corners, each next to the one ahead of it, from a corner on."""
+    many = len(corners_of(body))
+    found = []
+    ahead = [(start,)]
+    while ahead:
+        path = ahead.pop()
+        if len(path) == many:
+            found.append(path)
+        ahead.extend(path + (other,) for other in near_of(body, path[-1]) if other not in path)
+    return found
+
+
+def edges_on(path):
+    """The ascending tuple of the edges between corners that follow one another."""
+    return tuple(sorted(tuple(sorted(set(one) & set(other))) for one, other in zip(path, path[1:])))
+
+
+def all_rounds(body):
+    return list(_rounds(body))
+
+
+@lru_cache(maxsize=None)
+def _rounds(body):
+    start = corners_of(body)[0]
+    paths = [path for path in all_paths(body, start) if start in near_of(body, path[-1])]
+    return sorted({edges_on(path + (start,)) for path in paths})
+
+
+def lands_of(body, tour):
+    """Both lands of a round, each gone through from its least face."""
+    found = []
+    while sum(map(len, found)) < len(body):
+        ahead = [min(face for face in range(len(body)) if not any(face in land for land in found))]
+        land = set()
+        while ahead:
+            face = ahead.pop()
+            if face not in land:
+                land.add(face)
+                ahead.extend(other for other in body[face] if pair(face, other) not in tour)
+        found.append(tuple(sorted(land)))
+    return tuple(found)
+
+
+@lru_cache(maxsize=None)
+def all_rings(body):
+    """All rings of edges, as lots of edges of which each corner has none or two, and which are one; only read."""
+    found = []
+    for many in range(3, len(edges_of(body)) + 1):
+        for some in combinations(edges_of(body), many):
+            at = [sum(edge in some for edge in edges_at(corner)) for corner in corners_of(body)]
+            if set(at) <= {0, 2} and len(classes(some, lambda edge: tied_to(body, edge, some))) == 1:
+                found.append(some)
+    return found
+
+
+def tied_to(body, edge, some):
+    """Those of some edges that have a corner with an edge."""
+    return [other for corner in ends_of(body, edge) for other in edges_at(corner) if other in some]

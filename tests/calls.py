@@ -13,18 +13,26 @@ from huesandrounds.cutting import seams, way_down
 from huesandrounds.facehues import first_face_hues, to_edges
 from huesandrounds.flows import flow_of
 from huesandrounds.lines import pairings
+from huesandrounds.roads import ends
+from huesandrounds.rounds import lands, rounds
 from huesandrounds.signs import signs_of
-from tests.support import F, K, bent, deep, odd_integers, odd_values
+from huesandrounds.turning import turnable
+from huesandrounds.wording import word
+from tests.support import F, K, P, Q, bent, deep, odd_integers, odd_values
 
 
 class Call:
-    """A function, the kinds of its arguments, how right ones come of a body, and its limit of faces."""
+    """A function, the kinds of its arguments, how right ones come of a body, and its limit of faces.
 
-    def __init__(self, place, kinds, make, limit=None):
+    Where no right arguments come of a body, `make` returns None.
+    """
+
+    def __init__(self, place, kinds, make, limit=None, bodies=(F, K)):
         self.module, self.name = place.split(".")
         self.kinds = kinds.split()
         self.make = make
         self.limit = limit
+        self.bodies = bodies
         self.run = getattr(importlib.import_module(f"huesandrounds.{self.module}"), self.name)
 
 
@@ -39,6 +47,10 @@ ERRORS = {
     "many_hue": errors.InvalidHue, "flow": errors.InvalidFlow, "signs": errors.InvalidSigns,
     "pairing": errors.InvalidPairing, "drawing": errors.InvalidDrawing, "arrows": errors.InvalidArrows,
     "right": errors.InvalidArrows, "weights": errors.InvalidWeights, "index": errors.InvalidIndex,
+    "tour": errors.InvalidTour, "tour_edge": errors.InvalidEdge, "land": errors.InvalidLand,
+    "walk_edge": errors.InvalidEdge, "word": errors.InvalidWord, "road": errors.InvalidRoad,
+    "road_end": errors.InvalidCorner, "edge_end": errors.InvalidCorner, "prices": errors.InvalidPrices,
+    "dear": errors.InvalidNumber, "facts": errors.InvalidFacts,
 }
 
 
@@ -70,6 +82,39 @@ def on_face(body):
     return (body, face_hues, 1, (face_hues[1] + 2) % 4)
 
 
+def turned(body):
+    """A pairing and a face that can be turned in it."""
+    found = [(body, row, face) for row in pairings(body) for face in turnable(body, row)]
+    return found[-1] if found else None
+
+
+def walk_of(body):
+    """A round, a corner, and an edge of the round there."""
+    tour = rounds(body)[-1]
+    corner = corners(body)[-2]
+    return (body, tour, corner, [edge for edge in tour if set(edge) <= set(corner)][-1])
+
+
+def end_of(body):
+    """A round, one of its edges, and a corner at an end of it."""
+    tour = rounds(body)[0]
+    return (body, tour, tour[1], [corner for corner in corners(body) if set(tour[1]) <= set(corner)][-1])
+
+
+def road_on(body):
+    return rounds(body)[-1][1:]
+
+
+def cut_round(body):
+    """A round of a body with a face of three sides, and this face."""
+    threes = [face for face, ring in enumerate(body) if len(ring) == 3]
+    return (body, rounds(body)[-1], threes[-1]) if threes and len(body) > 4 else None
+
+
+def some_facts(body):
+    return ((0, 1, True), (1, 2, False), (0, 1, True))
+
+
 CALLS = [
     Call("bodies.is_body", "?body", lambda body: (body,)),
     Call("bodies.edges", "body", lambda body: (body,)),
@@ -79,9 +124,9 @@ CALLS = [
     Call("cutting.spots", "body", lambda body: (body,)),
     Call("cutting.seams", "body", lambda body: (body,)),
     Call("cutting.cut", "body spot", lambda body: (body, (corners(body)[1], -1))),
-    Call("cutting.healed", "body seam", lambda body: (body, seams(body)[-1])),
+    Call("cutting.healed", "body seam", lambda body: (body, seams(body)[-1]), bodies=(K,)),
     Call("cutting.way_down", "body", lambda body: (body,)),
-    Call("cutting.is_way_down", "body ?way", lambda body: (body, way_down(body))),
+    Call("cutting.is_way_down", "body ?way", lambda body: (body, way_down(body)), bodies=(K,)),
     Call("forms.renumbered", "body face near turning", lambda body: (body, 1, body[1][2], -1)),
     Call("forms.plain", "body", lambda body: (body,)),
     Call("forms.mirrored", "body", lambda body: (body,)),
@@ -160,6 +205,48 @@ CALLS = [
     Call("pairings.rings_left", "body pairing", lambda body: (body, pairings(body)[-1])),
     Call("pairings.hues_borne", "body pairing", lambda body: (body, pairings(body)[-1])),
     Call("pairings.pairings_of", "body hues", lambda body: (body, hues_on(body))),
+    Call("turning.turnable", "body pairing", lambda body: (body, pairings(body)[0])),
+    Call("turning.face_turned", "body pairing face", turned, bodies=(P, K)),
+    Call("turning.pairing_lots", "body", lambda body: (body,)),
+    Call("turning.lot_of", "body pairing", lambda body: (body, pairings(body)[0])),
+    Call("turning.turns_between", "body pairing pairing", lambda body: (body, pairings(body)[0], pairings(body)[-1])),
+    Call("rounds.is_round", "body ?tour", lambda body: (body, rounds(body)[0])),
+    Call("rounds.rounds", "body", lambda body: (body,)),
+    Call("rounds.count_rounds", "body", lambda body: (body,)),
+    Call("rounds.count_through", "body edge", lambda body: (body, edges(body)[-1])),
+    Call("rounds.other_round", "body tour tour_edge", lambda body: end_of(body)[:3]),
+    Call("rounds.lands", "body tour", lambda body: (body, rounds(body)[0])),
+    Call("rounds.round_by", "body land", lambda body: (body, lands(body, rounds(body)[0])[1])),
+    Call("rounds.land_sums", "body land", lambda body: (body, tuple(range(1, len(body))))),
+    Call("rounds.hues_by", "body tour", lambda body: (body, rounds(body)[-1])),
+    Call("walks.corner_walk", "body tour corner walk_edge", walk_of),
+    Call("walks.left_edges", "body tour", lambda body: (body, rounds(body)[-1])),
+    Call("walks.carried", "body tour corner", lambda body: walk_of(body)[:3]),
+    Call("walks.carried_back", "body tour face", cut_round, bodies=(P, Q)),
+    Call("wording.is_word", "?word", lambda body: (word(*walk_of(body)),)),
+    Call("wording.word", "body tour corner walk_edge", walk_of),
+    Call("wording.body_of", "word", lambda body: (word(*walk_of(body)),)),
+    Call("wording.count_words", "body", lambda body: (body,)),
+    Call("wording.words", "body", lambda body: (body,), 7),
+    Call("roads.is_road", "body ?road", lambda body: (body, road_on(body))),
+    Call("roads.ends", "body road", lambda body: (body, road_on(body))),
+    Call("roads.closed", "body road", lambda body: (body, road_on(body))),
+    Call("roads.turns", "body road road_end", lambda body: (body, road_on(body), ends(body, road_on(body))[1])),
+    Call("roads.count_roads", "body corner corner", lambda body: (body, corners(body)[0], corners(body)[2]), 8),
+    Call("roads.roads", "body corner", lambda body: (body, corners(body)[-1]), 8),
+    Call("roads.road_walk", "body tour tour_edge edge_end", end_of),
+    Call("roads.walked", "body tour tour_edge edge_end", end_of),
+    Call("roads.partners", "body edge edge_end", lambda body: (body,) + end_of(body)[2:], 8),
+    Call("prices.cost", "body tour prices", lambda body: (body, rounds(body)[0], (10 ** 20,) * len(edges(body)))),
+    Call("prices.cheapest", "body prices", lambda body: (body, tuple(range(len(edges(body)))))),
+    Call("prices.dearest", "body prices", lambda body: (body, (0,) * len(edges(body)))),
+    Call("prices.is_paper", "body prices dear ?paper",
+         lambda body: (body, (3,) * len(edges(body)), 6 * len(body) - 12, ("sum",))),
+    Call("prices.paper", "body prices", lambda body: (body, tuple(range(len(edges(body))))), 8),
+    Call("landfacts.beside", "body tour", lambda body: (body, rounds(body)[-1])),
+    Call("landfacts.hue_rounds", "body hues", lambda body: (body, hues_on(body))),
+    Call("landfacts.rounds_by_lands", "body facts", lambda body: (body, some_facts(body)), 8),
+    Call("landfacts.surely_same", "body facts face face", lambda body: (body, some_facts(body), 3, 3), 8),
 ]
 
 RANGES = {
@@ -170,7 +257,7 @@ RANGES = {
     "repaint": lambda args: [hue for hue in range(4) if hue != args[1][args[2]]],
     "unlike": lambda args: [hue for hue in range(4) if hue != args[2]],
     "signed": lambda args: range(-10 ** 12, 10 ** 12 + 1), "many": lambda args: range(1, 10 ** 12 + 1),
-    "many_hue": lambda args: range(args[1]), "index": lambda args: range(len(pairings(args[0]))),
+    "dear": lambda args: range(10 ** 22 + 1), "many_hue": lambda args: range(args[1]), "index": lambda args: range(len(pairings(args[0]))),
 }
 
 # Further wrong values, of the form of right ones, for the bodies that the tests take.
@@ -212,6 +299,34 @@ FALSE_FRIENDS = {
     "weights": lambda body: [
         (10 ** 6 + 1,) * len(edges(body)), (0,) * (len(edges(body)) - 1) + (-10 ** 6 - 1,),
         (False,) * len(edges(body))],
+    "tour": lambda body: [
+        rounds(body)[0][::-1], tuple(edges(body)), pairings(body)[0], rounds(body)[0][:-1] + ((0, 99),),
+        tuple(edges(body)[:2 * len(body) - 4]), tuple(edge[::-1] for edge in rounds(body)[0])] + lesser_rings(body),
+    "tour_edge": lambda body: FALSE_FRIENDS["edge"](body) + [
+        edge for edge in edges(body) if edge not in end_of(body)[1]],
+    "walk_edge": lambda body: FALSE_FRIENDS["edge"](body) + [
+        edge for edge in edges(body) if edge not in walk_of(body)[1] or not set(edge) <= set(walk_of(body)[2])],
+    "land": lambda body: [
+        (), tuple(range(len(body))), (0, 0), (1, 0), (0, len(body)), (-1, 0), (True,), (0, True), [0], 0, ((0,),)],
+    "road": lambda body: [
+        rounds(body)[0], road_on(body)[::-1], tuple(edges(body)[:2 * len(body) - 5]), road_on(body)[1:],
+        road_on(body)[:-1] + ((0, 99),)],
+    "road_end": lambda body: FALSE_FRIENDS["corner"](body) + [
+        corner for corner in corners(body) if corner not in ends(body, road_on(body))],
+    "edge_end": lambda body: FALSE_FRIENDS["corner"](body) + [
+        corner for corner in corners(body) if not set(end_of(body)[2]) <= set(corner)],
+    "prices": lambda body: [
+        (-1,) * len(edges(body)), (10 ** 20 + 1,) + (0,) * (len(edges(body)) - 1), (0,) * len(corners(body)),
+        (True,) * len(edges(body))],
+    "paper": lambda body: [
+        ("ring",), ("sum", ()), ("sums",), "sum", ("corner", corners(body)[0]), ("corner",), ["sum"], (["sum"],),
+        ("edge", edges(body)[0], ("sum",)), ("edge", edges(body)[0], ("sum",), ("ring",)),
+        ("edge", edges(body)[0][::-1], ("sum",), ("sum",)), ("edge", (0, True), ("sum",), ("sum",)),
+        ("edge", edges(body)[0], ("edge", edges(body)[0], ("sum",), ("sum",)), ("sum",)),
+        ("edge", edges(body)[0], ("sum",), ("sum",), ("sum",)), ("edge", edges(body)[0], deep(tuple, 90), deep(tuple, 90))],
+    "facts": lambda body: [
+        ((1, 0, True),), ((0, 0, True),), ((0, 1, 1),), ((0, 1, None),), ((0, len(body), True),), ((-1, 0, True),),
+        ((0, True, True),), ((0, 1),), ((0, 1, True, True),), (0, 1, True), ((0, 1, True),) * 7, [(0, 1, True)]],
     "way": lambda body: [way_down(body)[::-1] + ((0, 0),), way_down(body)[:-1] + ((0, len(body)),)],
 }
 
@@ -228,8 +343,29 @@ def are_hue_rows(value, length):
     return all(type(item) is tuple and item in ((), (0, 1), (0, 1, 2, 3)) for item in value)
 
 
+def are_facts(value):
+    if type(value) is not tuple or len(value) > 6:
+        return False
+    return all(type(item) is tuple and item in ((0, 1, True), (1, 2, False)) for item in value)
+
+
+def is_some_land(value, fine):
+    if not are_numbers(value, len(value) if type(value) is tuple else 0, 9):
+        return False
+    return 0 < len(value) and sorted(set(value)) == list(value) and value[0] >= 0 and value[-1] <= max(fine)
+
+
+def lesser_rings(body):
+    """As many edges as a round has, of which each corner has two, that are more than one ring."""
+    rests = [tuple(edge for edge in edges(body) if edge not in row) for row in pairings(body)]
+    return [rest for rest in rests if rest not in rounds(body)]
+
+
 # Some values that small faults make are right ones by chance.
 CHANCES = {
+    "prices": lambda value, fine: are_numbers(value, len(fine), 10 ** 20) and min(value) >= 0,
+    "facts": lambda value, fine: are_facts(value),
+    "land": is_some_land,
     "golden": lambda value, fine: are_numbers(value, 2, 1000),
     "weights": lambda value, fine: are_numbers(value, len(fine), 10 ** 6),
     "allowed": lambda value, fine: are_hue_rows(value, len(fine)),
@@ -248,12 +384,19 @@ def not_tied(body):
     return [(one, other) for other in range(len(body)) for one in range(other) if other not in body[one]]
 
 
+def bent_words(text):
+    return [text[:-1], text[1:], text[::-1], text + "()" * 9, "()", "", "(" + text[1:] + "(", text[0] + "{}" + text[1:],
+            text + " ", text + "\n", [text], (text,), list(text), tuple(text), "(])[", ")([]", "[[]", "()()()()()()()()()()()"]
+
+
 def wrong_values(call, args, at):
     """Wrong values for the argument at an index, all others being right."""
     kind = call.kinds[at].lstrip("?")
+    if kind == "word":
+        return odd_values() + odd_integers() + bent_words(args[at])
     if kind in RANGES:
         fine = RANGES[kind](args)
-        given = odd_values() + odd_integers() + list(range(-2, 15)) + [10 ** 12 + 1, -(10 ** 12) - 1]
+        given = odd_values() + odd_integers() + list(range(-2, 15)) + [10 ** 12 + 1, -(10 ** 12) - 1, 10 ** 22 + 1]
         return [value for value in given if type(value) is not int or value not in fine]
     body = args[0] if kind != "body" else args[at]
     found = odd_values() + odd_integers() + bent(args[at]) + FALSE_FRIENDS[kind](body)
@@ -263,7 +406,5 @@ def wrong_values(call, args, at):
 def cases():
     """All calls, each with right arguments over some bodies within its limit."""
     for call in CALLS:
-        for body in (F, K):
-            if call.name in ("healed", "is_way_down") and body == F:
-                continue
+        for body in call.bodies:
             yield call, call.make(body)

@@ -62,8 +62,9 @@ class Arguments(unittest.TestCase):
     def test_as_many_faces_as_the_limit(self):
         for call in CALLS:
             for body in (drawn(call.limit or 12, 2), drum((call.limit or 12) - 2)):
-                if call.name != "cut":
-                    call.run(*call.make(body))
+                args = call.make(body)
+                if call.name not in ("cut", "carried") and args is not None:
+                    call.run(*args)
 
     def test_two_calls_return_equal_and_separate_lists(self):
         for call, args in cases():

@@ -5,6 +5,7 @@ import importlib
 import pathlib
 import unittest
 
+from huesandrounds.forms import plain
 from tests.support import F, H, K, P, Q, R
 
 FOLDER = pathlib.Path(__file__).parent / "examples"
@@ -14,7 +15,7 @@ class Examples(unittest.TestCase):
     def run_file(self, path):
         module = importlib.import_module(f"huesandrounds.{path.stem}")
         names = {name: worth for name, worth in vars(module).items() if not name.startswith("_")}
-        names.update(F=F, P=P, K=K, Q=Q, H=H, R=R)
+        names.update(F=F, P=P, K=K, Q=Q, H=H, R=R, plain=plain)
         parsed = doctest.DocTestParser().get_doctest(path.read_text(), names, path.stem, str(path), 0)
         self.assertGreater(len(parsed.examples), 0)
         told = []

@@ -30,6 +30,21 @@ INTERFACE = {
               "arrow_sum(body,arrows,weights) pairing_sum(body,weights)",
     "pairings": "count_pairings(body) edge_share(body,edge) pairing_at(body,index) pairing_index(body,pairing) "
                 "pairings_at(body,corner) rings_left(body,pairing) hues_borne(body,pairing) pairings_of(body,hues)",
+    "turning": "turnable(body,pairing) face_turned(body,pairing,face) pairing_lots(body) lot_of(body,pairing) "
+               "turns_between(body,pairing,aim)",
+    "rounds": "is_round(body,value) rounds(body) count_rounds(body) count_through(body,edge) "
+              "other_round(body,tour,edge) lands(body,tour) round_by(body,faces) land_sums(body,faces) "
+              "hues_by(body,tour)",
+    "walks": "corner_walk(body,tour,corner,edge) left_edges(body,tour) carried(body,tour,corner) "
+             "carried_back(body,tour,face)",
+    "wording": "is_word(value) word(body,tour,corner,edge) body_of(text) count_words(body) words(body)",
+    "roads": "is_road(body,value) ends(body,road) closed(body,road) turns(body,road,corner) "
+             "count_roads(body,corner,last) roads(body,corner) road_walk(body,tour,edge,corner) "
+             "walked(body,tour,edge,corner) partners(body,edge,corner)",
+    "prices": "cost(body,tour,prices) cheapest(body,prices) dearest(body,prices) is_paper(body,prices,number,value) "
+              "paper(body,prices)",
+    "landfacts": "beside(body,tour) hue_rounds(body,hues) rounds_by_lands(body,facts) "
+                 "surely_same(body,facts,face,last)",
 }
 
 
