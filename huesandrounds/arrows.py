@@ -5,7 +5,8 @@ from huesandrounds.bodies import check_body
 from huesandrounds.checking import check_corner
 from huesandrounds.errors import InvalidArrows, InvalidWeights
 from huesandrounds.lines import check_pairing, pairing_list
-from huesandrounds.structure import corner_edges, corner_list, edge_ends, edge_places, followers, pair, tree_from_zero
+from huesandrounds.structure import (corner_edges, corner_list, edge_ends, edge_list, edge_places, edge_ways, pair,
+                                     tree_from_zero)
 
 MOST_WEIGHT = 10 ** 6
 
@@ -70,28 +71,12 @@ def along(body, arrows):
 
 def _along(body, arrows):
     """What `along` tells of what is taken to be arrows."""
-    places = edge_places(body)
-    ways = _ways_around(body)
     sums = [0 for _ in body]
-    for face, other in ways:
-        if arrows[places[pair(face, other)]] == ways[(face, other)]:
-            sums[face] = sums[face] + 1
+    for edge, way, arrow in zip(edge_list(body), edge_ways(body), arrows):
+        # An edge that goes as it begins and ends goes along at its lesser face.
+        face = edge[0] if (way[0] < way[1]) == (arrow == 1) else edge[1]
+        sums[face] = sums[face] + 1
     return tuple(sums)
-
-
-def _ways_around(body):
-    """For each face and each face of its ring, 1 if one goes up in number along their edge around the face, or -1."""
-    follow = followers(body)
-    number = {}
-    for at, corner in enumerate(corner_list(body)):
-        number[corner] = at
-    ways = {}
-    for face, other in follow:
-        # In the ring of the other face, the one behind this face is the one ahead of the other in this ring.
-        start = tuple(sorted([face, other, follow[(other, face)]]))
-        end = tuple(sorted([face, other, follow[(face, other)]]))
-        ways[(face, other)] = 1 if number[start] < number[end] else -1
-    return ways
 
 
 def _turned(arrows, places):
@@ -154,7 +139,7 @@ def arrow_sum(body, arrows, weights):
     """The sum of the worths of all pairings, each times its sign by arrows."""
     check_body(body)
     check_arrows(body, arrows)
-    _check_weights(body, weights)
+    check_weights(body, weights)
     places = edge_places(body)
     ends = edge_ends(body)
     return sum([_sign(places, ends, arrows, row) * _worth(places, weights, row) for row in pairing_list(body)])
@@ -163,12 +148,12 @@ def arrow_sum(body, arrows, weights):
 def pairing_sum(body, weights):
     """The sum of the worths of all pairings."""
     check_body(body)
-    _check_weights(body, weights)
+    check_weights(body, weights)
     places = edge_places(body)
     return sum([_worth(places, weights, row) for row in pairing_list(body)])
 
 
-def _check_weights(body, value):
+def check_weights(body, value):
     """Raises InvalidWeights for any value that is no weights of the body."""
     if not is_row(value, 3 * len(body) - 6, -MOST_WEIGHT, MOST_WEIGHT):
         raise InvalidWeights("no weights of the body")

@@ -1,7 +1,8 @@
 """Checks of arguments that many functions take; the body has been checked ahead."""
 
 from huesandrounds.basics import is_ascending, is_row, is_within
-from huesandrounds.errors import InvalidCorner, InvalidEdge, InvalidFace, InvalidHue, InvalidNumber, TooMany
+from huesandrounds.errors import (InvalidCorner, InvalidEdge, InvalidEdges, InvalidFace, InvalidHue, InvalidNumber,
+                                  TooMany)
 from huesandrounds.structure import corner_list
 
 
@@ -27,6 +28,12 @@ def check_edge(body, value):
     """Raises InvalidEdge for any value that is no edge."""
     if not is_edge(body, value):
         raise InvalidEdge("no edge of the body")
+
+
+def check_edges(body, value):
+    """Raises InvalidEdges for any value that is no ascending tuple of edges, perhaps of none."""
+    if not is_edge_row(body, value):
+        raise InvalidEdges("no ascending tuple of edges of the body")
 
 
 def check_corner(body, value):

@@ -105,7 +105,7 @@ def _holds(ground, marks, value):
 
 def _is_fork(ground, marks, value):
     """Whether any value has the form of a paper that takes, and bars, an edge of which nothing is told."""
-    if not isinstance(value, tuple) or len(value) != 4 or not _is_word(value[0], "edge"):
+    if not isinstance(value, tuple) or len(value) != 4 or value[0] != "edge":
         return False
     return is_edge(ground.body, value[1]) and marks[ground.edges.index(value[1])] == FREE
 
@@ -115,15 +115,10 @@ def _is_end(ground, marks, value):
     if not isinstance(value, tuple) or not 1 <= len(value) <= 2:
         return False
     if len(value) == 2:
-        return _is_word(value[0], "corner") and _is_lost(ground, marks, value[1])
-    if _is_word(value[0], "ring"):
+        return value[0] == "corner" and _is_lost(ground, marks, value[1])
+    if value[0] == "ring":
         return _has_ring(ground, marks)
-    return _is_word(value[0], "sum") and _is_dear(ground, marks)
-
-
-def _is_word(value, told):
-    """Whether any value is a word."""
-    return isinstance(value, str) and value == told
+    return value[0] == "sum" and _is_dear(ground, marks)
 
 
 def _is_lost(ground, marks, value):

@@ -19,7 +19,7 @@ def is_road(body, value):
 
 def _is_way(body, value):
     """Whether any value is a road of what is taken to be a body."""
-    if not isinstance(value, tuple) or len(value) != 2 * len(body) - 5 or not is_edge_row(body, value):
+    if not is_edge_row(body, value):
         return False
     if sorted(_degrees(body, value)) != [1, 1] + [2 for _ in range(2 * len(body) - 6)]:
         return False

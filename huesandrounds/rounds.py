@@ -17,7 +17,7 @@ def is_round(body, value):
 
 def is_tour(body, value):
     """Whether any value is a round of what is taken to be a body."""
-    if not isinstance(value, tuple) or len(value) != 2 * len(body) - 4 or not is_edge_row(body, value):
+    if not is_edge_row(body, value):
         return False
     # A round has two edges at each corner, so what it leaves out has one.
     rest = rest_of(body, value)

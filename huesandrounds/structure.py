@@ -107,6 +107,23 @@ def edge_ends(body):
     return ends
 
 
+def edge_ways(body):
+    """For each edge, in ascending order, the places of the corners where it begins and where it ends.
+
+    Around its lesser face one goes along it so.
+    """
+    number = {}
+    for at, corner in enumerate(corner_list(body)):
+        number[corner] = at
+    follow = followers(body)
+    ways = []
+    for one, other in edge_list(body):
+        # In the ring of the other face, the one behind this face is the one ahead of the other in this ring.
+        start, end = sorted([one, other, follow[(other, one)]]), sorted([one, other, follow[(one, other)]])
+        ways.append((number[tuple(start)], number[tuple(end)]))
+    return ways
+
+
 def corner_ties(body):
     """For each corner, in ascending order, the places of the corners at the other ends of its three edges."""
     ends = edge_ends(body)

@@ -240,3 +240,56 @@ def all_rings(body):
 def tied_to(body, edge, some):
     """Those of some edges that have a corner with an edge."""
     return [other for corner in ends_of(body, edge) for other in edges_at(corner) if other in some]
+
+
+def lots_by(places, ties):
+    """For each place a name of its lot, the same for places that ties lead to one another."""
+    lot = {place: place for place in places}
+    for one, other in ties:
+        gone, kept = lot[one], lot[other]
+        lot = {place: kept if name == gone else name for place, name in lot.items()}
+    return lot
+
+
+def places_of(body, on):
+    return corners_of(body) if on == "corners" else list(range(len(body)))
+
+
+def ties_of(body, on, some):
+    """The pairs of places of a web that some edges tie."""
+    return [ends_of(body, edge) if on == "corners" else edge for edge in some]
+
+
+def is_spanning(body, on, some):
+    """Whether some edges tie all places of a web, in one way alone."""
+    places = places_of(body, on)
+    return len(some) == len(places) - 1 and len(set(lots_by(places, ties_of(body, on, some)).values())) == 1
+
+
+@lru_cache(maxsize=None)
+def all_trees(body, on="corners"):
+    """All trees of edges, or of faces, in ascending order, as a list that is only read."""
+    many = len(places_of(body, on)) - 1
+    return [some for some in combinations(edges_of(body), many) if is_spanning(body, on, some)]
+
+
+def way_in(body, tree, start, aim):
+    """The list of the edges along which one comes from one corner to another one in a tree."""
+    ahead = [(start, [])]
+    while ahead:
+        here, way = ahead.pop()
+        if here == aim:
+            return way
+        for edge in edges_at(here):
+            if edge in tree and edge not in way[-1:]:
+                there = [corner for corner in ends_of(body, edge) if corner != here][0]
+                ahead.append((there, way + [edge]))
+    return None
+
+
+def begin_and_end(body, edge):
+    """The corners where an edge begins and where it ends."""
+    one, other = edge
+    ring = body[one]
+    at = ring.index(other)
+    return tuple(sorted((one, other, ring[at - 1]))), tuple(sorted((one, other, ring[(at + 1) % len(ring)])))

@@ -12,11 +12,15 @@ from huesandrounds.bodies import corners, edges
 from huesandrounds.cutting import seams, way_down
 from huesandrounds.facehues import first_face_hues, to_edges
 from huesandrounds.flows import flow_of
+from huesandrounds.exchanging import exchanges
 from huesandrounds.lines import pairings
+from huesandrounds.nets import net
 from huesandrounds.roads import ends
 from huesandrounds.rounds import lands, rounds
 from huesandrounds.signs import signs_of
+from huesandrounds.trees import count_trees, rest, tree_at
 from huesandrounds.turning import turnable
+from huesandrounds.wires import flows
 from huesandrounds.wording import word
 from tests.support import F, K, P, Q, bent, deep, odd_integers, odd_values
 
@@ -50,7 +54,11 @@ ERRORS = {
     "tour": errors.InvalidTour, "tour_edge": errors.InvalidEdge, "land": errors.InvalidLand,
     "walk_edge": errors.InvalidEdge, "word": errors.InvalidWord, "road": errors.InvalidRoad,
     "road_end": errors.InvalidCorner, "edge_end": errors.InvalidCorner, "prices": errors.InvalidPrices,
-    "dear": errors.InvalidNumber, "facts": errors.InvalidFacts,
+    "dear": errors.InvalidNumber, "facts": errors.InvalidFacts, "tree": errors.InvalidTree, "web": errors.InvalidWeb,
+    "some": errors.InvalidEdges, "tree_index": errors.InvalidNumber, "swap": errors.InvalidExchange,
+    "rest_edge": errors.InvalidEdge, "net": errors.InvalidNet, "load": errors.InvalidLoad,
+    "even_load": errors.InvalidLoad, "pile": errors.InvalidPile, "place": errors.InvalidNumber,
+    "moves": errors.InvalidMoves,
 }
 
 
@@ -109,6 +117,25 @@ def cut_round(body):
     """A round of a body with a face of three sides, and this face."""
     threes = [face for face, ring in enumerate(body) if len(ring) == 3]
     return (body, rounds(body)[-1], threes[-1]) if threes and len(body) > 4 else None
+
+
+def first_tree(body):
+    return tree_at(body, 0)
+
+
+def last_tree(body):
+    return tree_at(body, count_trees(body, "corners") - 1)
+
+
+def load_on(body, on):
+    """The greatest and the least number of chips by turns."""
+    return (10 ** 9, -10 ** 9, 7, 0) * 3 if on == "faces" and len(body) == 12 else tuple(
+        (10 ** 9, -10 ** 9, 7, 0)[at % 4] for at in range(len(body) if on == "faces" else len(corners(body))))
+
+
+def even_load_on(body, on):
+    many = len(body) if on == "faces" else len(corners(body))
+    return (10 ** 9, -10 ** 9) + (0,) * (many - 2)
 
 
 def some_facts(body):
@@ -246,6 +273,53 @@ CALLS = [
     Call("landfacts.beside", "body tour", lambda body: (body, rounds(body)[-1])),
     Call("landfacts.hue_rounds", "body hues", lambda body: (body, hues_on(body))),
     Call("landfacts.rounds_by_lands", "body facts", lambda body: (body, some_facts(body)), 8),
+    Call("trees.is_edge_tree", "body ?tree", lambda body: (body, first_tree(body))),
+    Call("trees.is_face_tree", "body ?face_tree", lambda body: (body, rest(body, last_tree(body)))),
+    Call("trees.rest", "body some", lambda body: (body, tuple(edges(body)[::2]))),
+    Call("trees.count_trees", "body web", lambda body: (body, "faces")),
+    Call("trees.trees_with", "body some some",
+         lambda body: (body, tuple(edges(body)[::3]), tuple(edges(body)[1::4]))),
+    Call("trees.share", "body edge", lambda body: (body, edges(body)[-1])),
+    Call("trees.tree_at", "body tree_index", lambda body: (body, count_trees(body, "corners") - 1)),
+    Call("trees.index_of", "body tree", lambda body: (body, last_tree(body))),
+    Call("trees.tree_sum", "body weights", lambda body: (body, (-10 ** 6,) * len(edges(body)))),
+    Call("exchanging.exchanges", "body tree", lambda body: (body, first_tree(body))),
+    Call("exchanging.exchanged", "body tree swap",
+         lambda body: (body, last_tree(body), exchanges(body, last_tree(body))[-1])),
+    Call("exchanging.ring_of", "body tree rest_edge",
+         lambda body: (body, first_tree(body), rest(body, first_tree(body))[-1])),
+    Call("exchanging.way_between", "body tree tree", lambda body: (body, first_tree(body), last_tree(body))),
+    Call("exchanging.least_tree", "body prices", lambda body: (body, tuple(range(len(edges(body)))))),
+    Call("exchanging.better", "body tree prices",
+         lambda body: (body, first_tree(body), (10 ** 20,) * 3 + (0,) * (len(edges(body)) - 3))),
+    Call("nets.rim", "body tree", lambda body: (body, last_tree(body))),
+    Call("nets.net", "body tree face", lambda body: (body, last_tree(body), 2)),
+    Call("nets.tree_of", "body net", lambda body: (body, net(body, first_tree(body), 1))),
+    Call("nets.like_nets", "body tree tree", lambda body: (body, first_tree(body), last_tree(body))),
+    Call("nets.count_nets", "body", lambda body: (body,), 6),
+    Call("chips.is_load", "body web ?load", lambda body: (body, "faces", load_on(body, "faces"))),
+    Call("chips.sent", "body web load place",
+         lambda body: (body, "corners", load_on(body, "corners"), len(corners(body)) - 1)),
+    Call("chips.invariants", "body web", lambda body: (body, "corners")),
+    Call("chips.alike_loads", "body web load load",
+         lambda body: (body, "corners", load_on(body, "corners"), load_on(body, "corners")[::-1])),
+    Call("chips.low", "body web load", lambda body: (body, "corners", load_on(body, "corners"))),
+    Call("chips.order_of", "body web even_load", lambda body: (body, "faces", even_load_on(body, "faces"))),
+    Call("chips.settled", "body web pile", lambda body: (body, "corners", (60,) * (len(corners(body)) - 1))),
+    Call("chips.is_lasting", "body web pile", lambda body: (body, "corners", (2,) * (len(corners(body)) - 1))),
+    Call("chips.lasting", "body web load", lambda body: (body, "faces", load_on(body, "faces"))),
+    Call("chips.neutral", "body web", lambda body: (body, "corners")),
+    Call("carrying.moved", "body moves", lambda body: (body, (10 ** 6, -10 ** 6, 5) * (len(body) - 2))),
+    Call("carrying.carried", "body even_load", lambda body: (body, even_load_on(body, "corners"))),
+    Call("carrying.carried_back", "body even_load", lambda body: (body, even_load_on(body, "faces"))),
+    Call("wires.sizes", "body edge", lambda body: (body, edges(body)[-1])),
+    Call("wires.flows", "body edge", lambda body: (body, edges(body)[2])),
+    Call("wires.levels", "body edge", lambda body: (body, edges(body)[1])),
+    Call("wires.places", "body edge", lambda body: (body, edges(body)[0])),
+    Call("wires.measure", "body edge", lambda body: (body, edges(body)[-2])),
+    Call("wires.least_flows", "body edge", lambda body: (body, edges(body)[-1])),
+    Call("wires.are_flows", "body edge ?flows", lambda body: (body, edges(body)[3], flows(body, edges(body)[3]))),
+    Call("shares.drop", "body corner corner", lambda body: (body, corners(body)[0], corners(body)[-1])),
     Call("landfacts.surely_same", "body facts face face", lambda body: (body, some_facts(body), 3, 3), 8),
 ]
 
@@ -257,6 +331,7 @@ RANGES = {
     "repaint": lambda args: [hue for hue in range(4) if hue != args[1][args[2]]],
     "unlike": lambda args: [hue for hue in range(4) if hue != args[2]],
     "signed": lambda args: range(-10 ** 12, 10 ** 12 + 1), "many": lambda args: range(1, 10 ** 12 + 1),
+    "tree_index": lambda args: range(count_trees(args[0], "corners")), "place": lambda args: range(len(args[2])),
     "dear": lambda args: range(10 ** 22 + 1), "many_hue": lambda args: range(args[1]), "index": lambda args: range(len(pairings(args[0]))),
 }
 
@@ -327,6 +402,37 @@ FALSE_FRIENDS = {
     "facts": lambda body: [
         ((1, 0, True),), ((0, 0, True),), ((0, 1, 1),), ((0, 1, None),), ((0, len(body), True),), ((-1, 0, True),),
         ((0, True, True),), ((0, 1),), ((0, 1, True, True),), (0, 1, True), ((0, 1, True),) * 7, [(0, 1, True)]],
+    "tree": lambda body: [
+        first_tree(body)[::-1], tuple(edges(body)), first_tree(body)[1:], rounds(body)[0], rounds(body)[0][:-1] + ((0, 99),),
+        rounds(body)[0][:-2] + rounds(body)[0][-1:] * 2, ()] + near_trees(body),
+    "face_tree": lambda body: [
+        rest(body, first_tree(body))[::-1], rest(body, first_tree(body))[1:], tuple(edges(body)), ()] + [
+        rest(body, some) for some in near_trees(body)],
+    "some": lambda body: [
+        edges(body)[:2], ((0, 2), (0, 1)), ((0, 1), (0, 1)), ((1, 0),), (0, 1), ((0, 1, 2),), ((0, True),),
+        ((0, 1), (0, len(body))), tuple(edges(body)[::-1]), "corners", ((0, 1), None), ([0, 1],)],
+    "swap": lambda body: [
+        ((0, 1), (0, 1)), ((1, 0), (0, 1)), ((0, 1),), (0, 1), ((0, 1), None), [(0, 1), (0, 2)], (None, (0, 1))] + [
+        (out, into) for out in edges(body) for into in edges(body)
+        if (out, into) not in exchanges(body, last_tree(body))],
+    "rest_edge": lambda body: FALSE_FRIENDS["edge"](body) + list(first_tree(body)),
+    "net": lambda body: [
+        (0, ()), (0, ((0, ()),)), (0,), (0, (), ()), 0, (True, ((2, ()), (3, ()))), (0, ((1, ()), (1, ()), (2, ()))),
+        (0, (1, 2, 3)), (0, [(1, ()), (2, ()), (3, ())]), (1,) + net(body, first_tree(body), 0)[1:],
+        (0, net(body, first_tree(body), 0)[1][::-1] + (None,)), (0, ((len(body), ()),)), (0, (deep(tuple, 90),) * 3),
+        (0, deep(tuple, 90)), tuple(list(item) if type(item) is tuple else item for item in net(body, first_tree(body), 0))],
+    "load": lambda body: [
+        (10 ** 9 + 1,) * len(body), (-10 ** 9 - 1,) * len(corners(body)), (True,) * len(body), (0,) * len(edges(body)),
+        (None,) * len(corners(body)), [0] * len(body)],
+    "even_load": lambda body: FALSE_FRIENDS["load"](body) + [(1,) * len(body), (1,) * len(corners(body))],
+    "pile": lambda body: [
+        (61,) * (len(corners(body)) - 1), (-1,) * (len(corners(body)) - 1), (0,) * len(corners(body)),
+        (True,) * (len(corners(body)) - 1)],
+    "moves": lambda body: [
+        (10 ** 6 + 1,) * len(edges(body)), (0,) * (len(edges(body)) - 1) + (-10 ** 6 - 1,),
+        (False,) * len(edges(body))],
+    "flows": lambda body: [
+        (0,) * len(edges(body)), (1,) * len(edges(body)), tuple(2 * item + 1 for item in flows(body, edges(body)[3]))],
     "way": lambda body: [way_down(body)[::-1] + ((0, 0),), way_down(body)[:-1] + ((0, len(body)),)],
 }
 
@@ -361,8 +467,27 @@ def lesser_rings(body):
     return [rest for rest in rests if rest not in rounds(body)]
 
 
+def near_trees(body):
+    """As many edges as a tree has, of which some close a ring."""
+    tree = last_tree(body)
+    swaps = [(out, into) for out in tree for into in edges(body) if into not in tree]
+    return [tuple(sorted(set(tree) - {out} | {into})) for out, into in swaps
+            if (out, into) not in exchanges(body, tree)]
+
+
+def are_some(value, fine):
+    if type(value) is not tuple or not all(type(item) is tuple and item in fine for item in value):
+        return False
+    return list(value) == sorted(set(value))
+
+
 # Some values that small faults make are right ones by chance.
 CHANCES = {
+    "some": are_some,
+    "load": lambda value, fine: are_numbers(value, len(fine), 10 ** 9),
+    "even_load": lambda value, fine: are_numbers(value, len(fine), 10 ** 9) and sum(value) == 0,
+    "pile": lambda value, fine: are_numbers(value, len(fine), 60) and min(value) >= 0,
+    "moves": lambda value, fine: are_numbers(value, len(fine), 10 ** 6),
     "prices": lambda value, fine: are_numbers(value, len(fine), 10 ** 20) and min(value) >= 0,
     "facts": lambda value, fine: are_facts(value),
     "land": is_some_land,
@@ -392,6 +517,8 @@ def bent_words(text):
 def wrong_values(call, args, at):
     """Wrong values for the argument at an index, all others being right."""
     kind = call.kinds[at].lstrip("?")
+    if kind == "web":
+        return odd_values() + odd_integers() + ["corner", "Faces", "faces ", "corners\n", ["corners"], ("faces",), "cornersfaces"]
     if kind == "word":
         return odd_values() + odd_integers() + bent_words(args[at])
     if kind in RANGES:

@@ -2,6 +2,7 @@
 
 import random
 
+from huesandrounds.bodies import corners, edges
 from huesandrounds.cutting import cut, spots
 from huesandrounds.errors import InvalidBody, TooMany
 
@@ -72,6 +73,21 @@ def deep(kind, width):
     for _ in range(29):
         value = kind([value]) if width == 1 else kind([value] * width)
     return value
+
+
+def drawn_tree(body, seed):
+    """A tree of edges, laid of edges in a drawn order."""
+    dice = random.Random(seed)
+    rest = edges(body)
+    dice.shuffle(rest)
+    lot = {corner: corner for corner in corners(body)}
+    tree = []
+    for edge in rest:
+        one, other = [lot[corner] for corner in lot if set(edge) <= set(corner)]
+        if one != other:
+            tree.append(edge)
+            lot = {corner: one if name == other else name for corner, name in lot.items()}
+    return tuple(sorted(tree))
 
 
 def odd_values():

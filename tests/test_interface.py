@@ -45,6 +45,19 @@ INTERFACE = {
               "paper(body,prices)",
     "landfacts": "beside(body,tour) hue_rounds(body,hues) rounds_by_lands(body,facts) "
                  "surely_same(body,facts,face,last)",
+    "trees": "is_edge_tree(body,value) is_face_tree(body,value) rest(body,some) count_trees(body,on) "
+             "trees_with(body,inside,outside) share(body,edge) tree_at(body,index) index_of(body,tree) "
+             "tree_sum(body,weights)",
+    "exchanging": "exchanges(body,tree) exchanged(body,tree,exchange) ring_of(body,tree,edge) "
+                  "way_between(body,one,other) least_tree(body,prices) better(body,tree,prices)",
+    "nets": "rim(body,tree) net(body,tree,face) tree_of(body,value) like_nets(body,one,other) count_nets(body)",
+    "chips": "is_load(body,on,value) sent(body,on,load,place) invariants(body,on) alike_loads(body,on,one,other) "
+             "low(body,on,load) order_of(body,on,load) settled(body,on,pile) is_lasting(body,on,pile) "
+             "lasting(body,on,load) neutral(body,on)",
+    "carrying": "moved(body,moves) carried(body,load) carried_back(body,load)",
+    "wires": "sizes(body,gap) flows(body,gap) levels(body,gap) places(body,gap) measure(body,gap) "
+             "least_flows(body,gap) are_flows(body,gap,value)",
+    "shares": "drop(body,corner,last)",
 }
 
 

@@ -158,6 +158,31 @@ class Papers(unittest.TestCase):
         self.assertIs(is_paper(F, (0,) * 6, 0, value[:3] + (("corner", (0, 1, 2)),)), False)
         self.assertIs(is_paper(F, (0,) * 6, 0, value[:3] + (value[3][:3] + (("sum",),),)), False)
 
+    def test_bent_ends(self):
+        def barred(end):
+            return ("edge", (0, 1), ("sum",), ("edge", (0, 2), ("sum",), end))
+
+        def taken(end):
+            return ("edge", (0, 1), ("edge", (0, 2), ("edge", (0, 3), end, ("sum",)), ("sum",)), ("sum",))
+
+        zero = (0,) * 6
+        self.assertIs(is_paper(F, zero, 0, barred(("corner", (0, 1, 2)))), True)
+        for end in ((False, True, 2), (0, True, 2), [0, 1, 2], (0, 1), (2, 1, 0), (0, 1, 2, 3), (0, 1, 4), None, 0):
+            self.assertIs(is_paper(F, zero, 0, barred(("corner", end))), False)
+        for end in (("corners", (0, 1, 2)), ("ring", (0, 1, 2)), ("corner", (0, 1, 2), ()), ["corner", (0, 1, 2)],
+                    (None, (0, 1, 2)), ("corner",)):
+            self.assertIs(is_paper(F, zero, 0, barred(end)), False)
+        self.assertIs(is_paper(F, zero, 0, taken(("ring",))), True)
+        for end in (("ring", ()), ("ring", (), ()), ("ring", (), (), ()), ["ring"], "ring", ("rings",), ("Ring",)):
+            self.assertIs(is_paper(F, zero, 0, taken(end)), False)
+        for end in (("sum", ()), ("sum", (), ()), ("sum", (), (), ()), ["sum"], "sum", ("sums",), (("sum",),), ()):
+            self.assertIs(is_paper(F, zero, 0, end), False)
+            self.assertIs(is_paper(F, zero, 0, ("edge", (0, 1), end, ("sum",))), False)
+            self.assertIs(is_paper(F, zero, 0, ("edge", (0, 1), ("sum",), end)), False)
+        for edge in ((False, 1), (0, True), [0, 1], (1, 0), (0, 1, 2), (0, 4), 0, None):
+            self.assertIs(is_paper(F, zero, 0, ("edge", edge, ("sum",), ("sum",))), False)
+        self.assertIs(is_paper(F, zero, 0, ("edges", (0, 1), ("sum",), ("sum",))), False)
+
     def test_half_numbers(self):
         # The least that two edges at each corner cost may be odd: 2 * 4 - 1 is enough for 4.
         prices = (0, 1, 2, 1, 1, 4)
