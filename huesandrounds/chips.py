@@ -139,7 +139,7 @@ def is_lasting(body, on, pile):
     check_pile(body, on, pile)
     first = web_near(body, on)[0]
     more = tuple([many + 1 if at in first else many for at, many in enumerate((0,) + pile)])[1:]
-    return _settle(body, on, pile) == pile and _settle(body, on, more) == pile
+    return _settle(body, on, more) == pile
 
 
 def lasting(body, on, load):

@@ -59,7 +59,7 @@ class Ground:
     """What papers are held against: a body with its prices and a number, and what is tied to what."""
 
     def __init__(self, body, prices, number):
-        self.body = body
+        self.shape = body
         self.prices = prices
         self.number = number
         self.edges = edge_list(body)
@@ -107,7 +107,7 @@ def _is_fork(ground, marks, value):
     """Whether any value has the form of a paper that takes, and bars, an edge of which nothing is told."""
     if not isinstance(value, tuple) or len(value) != 4 or value[0] != "edge":
         return False
-    return is_edge(ground.body, value[1]) and marks[ground.edges.index(value[1])] == FREE
+    return is_edge(ground.shape, value[1]) and marks[ground.edges.index(value[1])] == FREE
 
 
 def _is_end(ground, marks, value):
@@ -123,7 +123,7 @@ def _is_end(ground, marks, value):
 
 def _is_lost(ground, marks, value):
     """Whether any value is a corner that no round can have with what is told of its edges."""
-    if not is_row(value, 3, 0, len(ground.body) - 1) or value not in ground.corners:
+    if not is_row(value, 3, 0, len(ground.shape) - 1) or value not in ground.corners:
         return False
     return _is_broken(marks, ground.rows[ground.corners.index(value)])
 
@@ -139,7 +139,7 @@ def _has_ring(ground, marks):
     for lump in lumps(ground.ties, [mark == TAKEN for mark in marks]):
         # Edges with no more corners than edges have a ring; if it has all corners, and is all of them, no lesser one.
         corners = len({corner for at in lump for corner in ground.ends[at]})
-        if len(lump) >= corners and not is_tour(ground.body, tuple([ground.edges[at] for at in lump])):
+        if len(lump) >= corners and not is_tour(ground.shape, tuple([ground.edges[at] for at in lump])):
             return True
     return False
 

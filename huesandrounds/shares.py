@@ -13,8 +13,6 @@ def drop(body, corner, last):
     check_body(body)
     check_corner(body, corner)
     check_corner(body, last)
-    if corner == last:
-        return (0, 1)
     corners = corner_list(body)
     at = corners.index(corner)
     ties = web_ties(body, CORNERS)

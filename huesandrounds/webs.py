@@ -10,7 +10,7 @@ FACES = "faces"
 
 def check_web(value):
     """Raises InvalidWeb for any value that is none of the two words."""
-    if not isinstance(value, str) or value not in (CORNERS, FACES):
+    if value not in (CORNERS, FACES):
         raise InvalidWeb("neither corners nor faces")
 
 
@@ -42,7 +42,7 @@ def balance(ties, weights, size, ground):
             sums[(place, place)] = sums.get((place, place), 0) + weight
             sums[(place, there)] = sums.get((place, there), 0) - weight
     kept = [place for place in range(size) if place != ground]
-    return [[sums.get((place, there), 0) for there in kept] for place in kept]
+    return [[sums.get((row, column), 0) for column in kept] for row in kept]
 
 
 def sum_of_trees(ties, weights, size):

@@ -40,12 +40,12 @@ def _word_of(body, tour, walk):
     """The word of a round, given the places of all corners as they are walked."""
     edges = edge_list(body)
     around = corner_edges(body)
-    left = [[at for at in around[place] if edges[at] not in tour][0] for place in walk]
+    left = [[edge for edge in around[place] if edges[edge] not in tour][0] for place in walk]
     inner = lands_by(body, tour)[0]
     signs = []
-    for at, edge in enumerate(left):
-        kind = "()" if edges[edge][0] in inner else "[]"
-        signs.append(kind[1] if edge in left[:at] else kind[0])
+    for at, own in enumerate(left):
+        kind = "()" if edges[own][0] in inner else "[]"
+        signs.append(kind[1] if own in left[:at] else kind[0])
     return "".join(signs)
 
 

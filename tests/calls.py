@@ -273,6 +273,7 @@ CALLS = [
     Call("landfacts.beside", "body tour", lambda body: (body, rounds(body)[-1])),
     Call("landfacts.hue_rounds", "body hues", lambda body: (body, hues_on(body))),
     Call("landfacts.rounds_by_lands", "body facts", lambda body: (body, some_facts(body)), 8),
+    Call("landfacts.surely_same", "body facts face face", lambda body: (body, some_facts(body), 3, 3), 8),
     Call("trees.is_edge_tree", "body ?tree", lambda body: (body, first_tree(body))),
     Call("trees.is_face_tree", "body ?face_tree", lambda body: (body, rest(body, last_tree(body)))),
     Call("trees.rest", "body some", lambda body: (body, tuple(edges(body)[::2]))),
@@ -320,7 +321,6 @@ CALLS = [
     Call("wires.least_flows", "body edge", lambda body: (body, edges(body)[-1])),
     Call("wires.are_flows", "body edge ?flows", lambda body: (body, edges(body)[3], flows(body, edges(body)[3]))),
     Call("shares.drop", "body corner corner", lambda body: (body, corners(body)[0], corners(body)[-1])),
-    Call("landfacts.surely_same", "body facts face face", lambda body: (body, some_facts(body), 3, 3), 8),
 ]
 
 RANGES = {
@@ -332,7 +332,8 @@ RANGES = {
     "unlike": lambda args: [hue for hue in range(4) if hue != args[2]],
     "signed": lambda args: range(-10 ** 12, 10 ** 12 + 1), "many": lambda args: range(1, 10 ** 12 + 1),
     "tree_index": lambda args: range(count_trees(args[0], "corners")), "place": lambda args: range(len(args[2])),
-    "dear": lambda args: range(10 ** 22 + 1), "many_hue": lambda args: range(args[1]), "index": lambda args: range(len(pairings(args[0]))),
+    "dear": lambda args: range(10 ** 22 + 1), "many_hue": lambda args: range(args[1]),
+    "index": lambda args: range(len(pairings(args[0]))),
 }
 
 # Further wrong values, of the form of right ones, for the bodies that the tests take.
@@ -398,12 +399,14 @@ FALSE_FRIENDS = {
         ("edge", edges(body)[0], ("sum",)), ("edge", edges(body)[0], ("sum",), ("ring",)),
         ("edge", edges(body)[0][::-1], ("sum",), ("sum",)), ("edge", (0, True), ("sum",), ("sum",)),
         ("edge", edges(body)[0], ("edge", edges(body)[0], ("sum",), ("sum",)), ("sum",)),
-        ("edge", edges(body)[0], ("sum",), ("sum",), ("sum",)), ("edge", edges(body)[0], deep(tuple, 90), deep(tuple, 90))],
+        ("edge", edges(body)[0], ("sum",), ("sum",), ("sum",)),
+        ("edge", edges(body)[0], deep(tuple, 90), deep(tuple, 90))],
     "facts": lambda body: [
         ((1, 0, True),), ((0, 0, True),), ((0, 1, 1),), ((0, 1, None),), ((0, len(body), True),), ((-1, 0, True),),
         ((0, True, True),), ((0, 1),), ((0, 1, True, True),), (0, 1, True), ((0, 1, True),) * 7, [(0, 1, True)]],
     "tree": lambda body: [
-        first_tree(body)[::-1], tuple(edges(body)), first_tree(body)[1:], rounds(body)[0], rounds(body)[0][:-1] + ((0, 99),),
+        first_tree(body)[::-1], tuple(edges(body)), first_tree(body)[1:], rounds(body)[0],
+        rounds(body)[0][:-1] + ((0, 99),),
         rounds(body)[0][:-2] + rounds(body)[0][-1:] * 2, ()] + near_trees(body),
     "face_tree": lambda body: [
         rest(body, first_tree(body))[::-1], rest(body, first_tree(body))[1:], tuple(edges(body)), ()] + [
@@ -420,7 +423,7 @@ FALSE_FRIENDS = {
         (0, ()), (0, ((0, ()),)), (0,), (0, (), ()), 0, (True, ((2, ()), (3, ()))), (0, ((1, ()), (1, ()), (2, ()))),
         (0, (1, 2, 3)), (0, [(1, ()), (2, ()), (3, ())]), (1,) + net(body, first_tree(body), 0)[1:],
         (0, net(body, first_tree(body), 0)[1][::-1] + (None,)), (0, ((len(body), ()),)), (0, (deep(tuple, 90),) * 3),
-        (0, deep(tuple, 90)), tuple(list(item) if type(item) is tuple else item for item in net(body, first_tree(body), 0))],
+        (0, deep(tuple, 90)), (0, list(net(body, first_tree(body), 0)[1]))],
     "load": lambda body: [
         (10 ** 9 + 1,) * len(body), (-10 ** 9 - 1,) * len(corners(body)), (True,) * len(body), (0,) * len(edges(body)),
         (None,) * len(corners(body)), [0] * len(body)],
@@ -511,14 +514,15 @@ def not_tied(body):
 
 def bent_words(text):
     return [text[:-1], text[1:], text[::-1], text + "()" * 9, "()", "", "(" + text[1:] + "(", text[0] + "{}" + text[1:],
-            text + " ", text + "\n", [text], (text,), list(text), tuple(text), "(])[", ")([]", "[[]", "()()()()()()()()()()()"]
+            text + " ", text + "\n", [text], (text,), list(text), tuple(text), "(])[", ")([]", "[[]", "()" * 11]
 
 
 def wrong_values(call, args, at):
     """Wrong values for the argument at an index, all others being right."""
     kind = call.kinds[at].lstrip("?")
     if kind == "web":
-        return odd_values() + odd_integers() + ["corner", "Faces", "faces ", "corners\n", ["corners"], ("faces",), "cornersfaces"]
+        near = ["corner", "Faces", "faces ", "corners\n", ["corners"], ("faces",), "cornersfaces"]
+        return odd_values() + odd_integers() + near
     if kind == "word":
         return odd_values() + odd_integers() + bent_words(args[at])
     if kind in RANGES:

@@ -41,7 +41,10 @@ class Exchanges(unittest.TestCase):
                         if (out, into) not in fine:
                             with self.assertRaises(InvalidExchange):
                                 exchanged(body, tree, (out, into))
-                for number, value in enumerate(odd_values() + bent(fine[0]) + [fine[0] * 2, fine[0][::-1]]):
+                odd = [tuple(tuple(item == 1 or item for item in edge) for edge in both) for both in fine]
+                odd = [both for both in odd if any(item is True for edge in both for item in edge)]
+                odd += [(list(out), into) for out, into in fine] + [(out, list(into)) for out, into in fine]
+                for number, value in enumerate(odd_values() + bent(fine[0]) + [fine[0] * 2, fine[0][::-1]] + odd):
                     with self.assertRaises(InvalidExchange, msg=number):
                         exchanged(body, tree, value)
 

@@ -219,7 +219,8 @@ class Papers(unittest.TestCase):
     def test_deep_papers(self):
         for body in (K, ball(), drum(10), drawn(12, 7)):
             zero = (0,) * len(edges_of(body))
-            for end in (("sum",), ("ring",), ("corner", corners_of(body)[0]), ("corner", corners_of(body)[-1]), (), "x"):
+            lost = [("corner", corners_of(body)[0]), ("corner", corners_of(body)[-1])]
+            for end in [("sum",), ("ring",), (), "x"] + lost:
                 for places in (edges_of(body), edges_of(body)[::-1], edges_of(body)[:1] * 30):
                     both = one = other = end
                     for edge in places[:29]:

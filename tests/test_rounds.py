@@ -8,8 +8,8 @@ from huesandrounds.edgehues import is_edge_hues
 from huesandrounds.errors import InvalidEdge, InvalidLand
 from huesandrounds.lines import pairings
 from huesandrounds.pairings import rings_left
-from huesandrounds.rounds import (count_rounds, count_through, hues_by, is_round, land_sums, lands, other_round, round_by,
-                                  rounds)
+from huesandrounds.rounds import (count_rounds, count_through, hues_by, is_round, land_sums, lands, other_round,
+                                  round_by, rounds)
 from tests.brute import all_rounds, corners_of, edges_of, lands_of
 from tests.support import F, K, P, R, ball, bent, drum, odd_integers, odd_values, some_bodies
 

@@ -72,8 +72,8 @@ class Wires(unittest.TestCase):
                 self.assertEqual((min(level.values()), max(level.values())), (0, height))
                 self.assertEqual((place[gap[0]], place[gap[1]]), (0, width))
                 for a, b, c in turned_of(body).values():
-                    around = [told[pair(*edge)] * (1 if edge == pair(*edge) else -1) for edge in ((a, b), (b, c), (c, a))]
-                    self.assertEqual(sum(around), 0)
+                    trio = ((a, b), (b, c), (c, a))
+                    self.assertEqual(sum(told[pair(*edge)] * (1 if edge == pair(*edge) else -1) for edge in trio), 0)
                 for edge in edges:
                     self.assertEqual(told[edge], place[edge[1]] - place[edge[0]])
                     if edge != gap:
