@@ -1,8 +1,8 @@
 """Checks of arguments that many functions take; the body has been checked ahead."""
 
 from huesandrounds.basics import is_ascending, is_row, is_within
-from huesandrounds.errors import (InvalidCorner, InvalidEdge, InvalidEdges, InvalidFace, InvalidHue, InvalidNumber,
-                                  TooMany)
+from huesandrounds.errors import (InvalidCorner, InvalidCorners, InvalidEdge, InvalidEdges, InvalidFace, InvalidFaces,
+                                  InvalidHue, InvalidNumber, TooMany)
 from huesandrounds.structure import corner_list
 
 
@@ -18,10 +18,31 @@ def is_edge_row(body, value):
     return is_ascending(value)
 
 
+def is_face_row(body, value):
+    """Whether any value is an ascending tuple of faces of the body."""
+    if not isinstance(value, tuple) or not is_row(value, len(value), 0, len(body) - 1):
+        return False
+    return is_ascending(value)
+
+
+def is_corner_row(body, value):
+    """Whether any value is an ascending tuple of corners of the body."""
+    if not isinstance(value, tuple) or not all([is_row(item, 3, 0, len(body) - 1) for item in value]):
+        return False
+    found = corner_list(body)
+    return all([item in found for item in value]) and is_ascending(value)
+
+
 def check_face(body, value):
     """Raises InvalidFace for any value that is no face."""
     if not is_within(value, 0, len(body) - 1):
         raise InvalidFace("no face of the body")
+
+
+def check_faces(body, value):
+    """Raises InvalidFaces for any value that is no lot of faces, perhaps of none."""
+    if not is_face_row(body, value):
+        raise InvalidFaces("no lot of faces of the body")
 
 
 def check_edge(body, value):
@@ -40,6 +61,12 @@ def check_corner(body, value):
     """Raises InvalidCorner for any value that is no corner."""
     if not is_row(value, 3, 0, len(body) - 1) or value not in corner_list(body):
         raise InvalidCorner("no corner of the body")
+
+
+def check_corners(body, value):
+    """Raises InvalidCorners for any value that is no lot of corners, perhaps of none."""
+    if not is_corner_row(body, value):
+        raise InvalidCorners("no lot of corners of the body")
 
 
 def check_number(value, low, high):

@@ -1,8 +1,7 @@
 """Rounds over all corners, the lands into which they part the faces, and the hues that they give."""
 
-from huesandrounds.basics import is_ascending, is_row
 from huesandrounds.bodies import check_body
-from huesandrounds.checking import check_edge, is_edge, is_edge_row
+from huesandrounds.checking import check_edge, is_edge, is_edge_row, is_face_row
 from huesandrounds.errors import InvalidEdge, InvalidLand, InvalidTour
 from huesandrounds.lines import pairing_list, pairs_corners
 from huesandrounds.pairings import rings_beside
@@ -108,10 +107,8 @@ def land_sums(body, faces):
 
 def _check_land(body, value):
     """Raises InvalidLand for any value that is no ascending tuple of faces, of one at least, and not all."""
-    if not isinstance(value, tuple) or not 1 <= len(value) < len(body):
-        raise InvalidLand("no tuple of one face at least, and not all")
-    if not is_row(value, len(value), 0, len(body) - 1) or not is_ascending(value):
-        raise InvalidLand("no ascending tuple of faces")
+    if not is_face_row(body, value) or not 1 <= len(value) < len(body):
+        raise InvalidLand("no ascending tuple of one face at least, and not all")
 
 
 def hues_by(body, tour):

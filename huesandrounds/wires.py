@@ -6,34 +6,28 @@ from huesandrounds.basics import is_int
 from huesandrounds.bodies import check_body
 from huesandrounds.checking import check_edge
 from huesandrounds.structure import edge_list, edge_places, edge_ways
-from huesandrounds.webs import CORNERS, FACES, trees_apart, web_size, web_ties
+from huesandrounds.webs import CORNERS, FACES, plain_weights, trees_apart, web_size, web_ties
 
 
 def sizes(body, gap):
     """The pair of the width and the height with a gap."""
     check_body(body)
     check_edge(body, gap)
-    width, found = _levels(body, gap)
-    _, tail = _poles(body, gap)
-    return (width, found[tail])
+    width, found = levels_by(body, gap, plain_weights(body))
+    # The second pole is the one with the greatest level, since it is always on its own side.
+    return (width, max(found))
 
 
-def _levels(body, gap):
-    """The width with a gap, and the levels of all corners."""
-    head, tail = _poles(body, gap)
-    return _apart(body, CORNERS, gap, head, tail)
-
-
-def _poles(body, gap):
-    """The places of the first and the second pole, the head and the tail of the gap."""
+def levels_by(body, gap, thick):
+    """The width with a gap by thicknesses, and the levels of all corners."""
     tail, head = edge_ways(body)[edge_places(body)[gap]]
-    return (head, tail)
+    return _apart(body, CORNERS, gap, thick, head, tail)
 
 
-def _apart(body, on, gap, ground, place):
-    """How many trees without the gap a web has, and for each place how many are parted with it on one side."""
-    weights = [0 if edge == gap else 1 for edge in edge_list(body)]
-    return trees_apart(web_ties(body, on), weights, web_size(body, on), ground, place)
+def _apart(body, on, gap, weights, ground, place):
+    """The trees without the gap on a web, and for each place those parted with it on one side, all by weights."""
+    left = [0 if edge == gap else weight for edge, weight in zip(edge_list(body), weights)]
+    return trees_apart(web_ties(body, on), left, web_size(body, on), ground, place)
 
 
 def flows(body, gap):
@@ -45,16 +39,15 @@ def flows(body, gap):
 
 def flow_row(body, gap):
     """The flows of all edges with what is taken to be a gap."""
-    width, found = _levels(body, gap)
-    drops = [found[head] - found[tail] for tail, head in edge_ways(body)]
-    return tuple([width if edge == gap else drop for edge, drop in zip(edge_list(body), drops)])
+    found = place_row(body, gap)
+    return tuple([found[greater] - found[lesser] for lesser, greater in edge_list(body)])
 
 
 def levels(body, gap):
     """The tuple of the levels of all corners with a gap."""
     check_body(body)
     check_edge(body, gap)
-    _, found = _levels(body, gap)
+    _, found = levels_by(body, gap, plain_weights(body))
     return found
 
 
@@ -62,7 +55,12 @@ def places(body, gap):
     """The tuple of the places of all faces with a gap."""
     check_body(body)
     check_edge(body, gap)
-    _, found = _apart(body, FACES, gap, gap[0], gap[1])
+    return place_row(body, gap)
+
+
+def place_row(body, gap):
+    """The places of all faces with what is taken to be a gap."""
+    _, found = _apart(body, FACES, gap, plain_weights(body), gap[0], gap[1])
     return found
 
 
@@ -70,10 +68,10 @@ def measure(body, gap):
     """The measure with a gap."""
     check_body(body)
     check_edge(body, gap)
-    return _measure_of(flow_row(body, gap))
+    return measure_of(flow_row(body, gap))
 
 
-def _measure_of(row):
+def measure_of(row):
     """The greatest integer that divides all items of a row."""
     common = 0
     for item in row:
@@ -91,7 +89,7 @@ def least_flows(body, gap):
 def least_row(body, gap):
     """The least flows of all edges with what is taken to be a gap."""
     row = flow_row(body, gap)
-    common = _measure_of(row)
+    common = measure_of(row)
     return tuple([item // common for item in row])
 
 

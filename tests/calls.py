@@ -10,6 +10,7 @@ from huesandrounds.allowed import denial
 from huesandrounds.arrows import right_arrows
 from huesandrounds.bodies import corners, edges
 from huesandrounds.cutting import seams, way_down
+from huesandrounds.evenlots import rim
 from huesandrounds.facehues import first_face_hues, to_edges
 from huesandrounds.flows import flow_of
 from huesandrounds.exchanging import exchanges
@@ -18,6 +19,9 @@ from huesandrounds.nets import net
 from huesandrounds.roads import ends
 from huesandrounds.rounds import lands, rounds
 from huesandrounds.signs import signs_of
+from huesandrounds.squares import rectangle
+from huesandrounds.streams import stream
+from huesandrounds.tears import tear
 from huesandrounds.trees import count_trees, rest, tree_at
 from huesandrounds.turning import turnable
 from huesandrounds.wires import flows
@@ -58,7 +62,10 @@ ERRORS = {
     "some": errors.InvalidEdges, "tree_index": errors.InvalidNumber, "swap": errors.InvalidExchange,
     "rest_edge": errors.InvalidEdge, "net": errors.InvalidNet, "load": errors.InvalidLoad,
     "even_load": errors.InvalidLoad, "pile": errors.InvalidPile, "place": errors.InvalidNumber,
-    "moves": errors.InvalidMoves,
+    "moves": errors.InvalidMoves, "thick": errors.InvalidThick, "filled": errors.InvalidFilled,
+    "faces": errors.InvalidFaces, "even": errors.InvalidEven, "even_place": errors.InvalidNumber,
+    "corners": errors.InvalidCorners, "tear": errors.InvalidTear, "bonds": errors.InvalidBonds,
+    "half_bonds": errors.InvalidBonds, "other_face": errors.InvalidFace,
 }
 
 
@@ -136,6 +143,31 @@ def load_on(body, on):
 def even_load_on(body, on):
     many = len(body) if on == "faces" else len(corners(body))
     return (10 ** 9, -10 ** 9) + (0,) * (many - 2)
+
+
+def thick_on(body):
+    return tuple(1 + at % 20 for at in range(len(edges(body))))
+
+
+def filled_by(body):
+    return (rectangle(body, edges(body)[-1]),)
+
+
+def a_rim(body):
+    return rim(body, (1, len(body) - 1))
+
+
+def a_tear(body):
+    return tear(body, tuple(corners(body)[1:3]))
+
+
+def bonds_on(body):
+    return tuple((1000 - at, 3 * at - 1000) for at in range(len(edges(body))))
+
+
+def between_faces(body):
+    """Arguments for what takes prices and two unlike faces."""
+    return (body, (1,) * len(edges(body)), len(body) - 1, 0)
 
 
 def some_facts(body):
@@ -321,6 +353,48 @@ CALLS = [
     Call("wires.least_flows", "body edge", lambda body: (body, edges(body)[-1])),
     Call("wires.are_flows", "body edge ?flows", lambda body: (body, edges(body)[3], flows(body, edges(body)[3]))),
     Call("shares.drop", "body corner corner", lambda body: (body, corners(body)[0], corners(body)[-1])),
+    Call("thick.thick_sizes", "body edge thick", lambda body: (body, edges(body)[-1], thick_on(body))),
+    Call("thick.thick_flows", "body edge thick", lambda body: (body, edges(body)[0], (20,) * len(edges(body)))),
+    Call("thick.thick_levels", "body edge thick", lambda body: (body, edges(body)[2], (1,) * len(edges(body)))),
+    Call("thick.tiled", "body edge thick", lambda body: (body, edges(body)[1], thick_on(body))),
+    Call("squares.still", "body edge", lambda body: (body, edges(body)[0])),
+    Call("squares.rectangle", "body edge", lambda body: (body, edges(body)[-1])),
+    Call("squares.perfect_gaps", "body", lambda body: (body,)),
+    Call("squares.is_filled", "?filled", filled_by),
+    Call("squares.is_perfect", "filled", filled_by),
+    Call("squares.crosses", "filled", filled_by),
+    Call("squares.turned", "filled", filled_by),
+    Call("filling.level_lines", "filled", filled_by),
+    Call("filling.upright_lines", "filled", filled_by),
+    Call("filling.told_back", "filled", filled_by),
+    Call("evenlots.is_even", "body ?even", lambda body: (body, a_rim(body))),
+    Call("evenlots.rim", "body faces", lambda body: (body, (1, len(body) - 1))),
+    Call("evenlots.faces_of", "body even", lambda body: (body, a_rim(body))),
+    Call("evenlots.rings_of", "body even", lambda body: (body, a_rim(body))),
+    Call("evenlots.even_lots", "body", lambda body: (body,), 9),
+    Call("evenlots.even_at", "body even_place", lambda body: (body, 2 ** (len(body) - 1) - 1), 9),
+    Call("evenlots.even_index", "body even", lambda body: (body, a_rim(body)), 9),
+    Call("evenlots.even_sizes", "body", lambda body: (body,)),
+    Call("evenlots.count_covers", "body", lambda body: (body,)),
+    Call("tears.is_tear", "body ?tear", lambda body: (body, a_tear(body))),
+    Call("tears.tear", "body corners", lambda body: (body, tuple(corners(body)))),
+    Call("tears.corners_of", "body tear", lambda body: (body, a_tear(body))),
+    Call("tears.tear_sizes", "body", lambda body: (body,)),
+    Call("tears.split", "body some", lambda body: (body, tuple(edges(body)))),
+    Call("tears.count_bicycles", "body", lambda body: (body,)),
+    Call("tears.bicycles", "body", lambda body: (body,)),
+    Call("tears.zigzags", "body", lambda body: (body,)),
+    Call("tears.edge_kind", "body edge", lambda body: (body, edges(body)[-1])),
+    Call("weighing.corner_sum", "body bonds", lambda body: (body, bonds_on(body))),
+    Call("weighing.face_sum", "body bonds", lambda body: (body, ((-1000, 1000),) * len(edges(body)))),
+    Call("weighing.turned_bonds", "body half_bonds", lambda body: (body, ((500, -500),) * len(edges(body)))),
+    Call("streams.least_rim", "body prices face other_face", between_faces),
+    Call("streams.stream", "body prices face other_face", between_faces),
+    Call("streams.is_stream", "body prices face other_face ?stream",
+         lambda body: between_faces(body) + (stream(*between_faces(body)),)),
+    Call("streams.greatest_tear", "body prices", lambda body: (body, (10 ** 20,) * len(edges(body)))),
+    Call("streams.same_price", "body prices", lambda body: (body, tuple(2 ** at for at in range(len(edges(body))))),
+         9),
 ]
 
 RANGES = {
@@ -334,6 +408,8 @@ RANGES = {
     "tree_index": lambda args: range(count_trees(args[0], "corners")), "place": lambda args: range(len(args[2])),
     "dear": lambda args: range(10 ** 22 + 1), "many_hue": lambda args: range(args[1]),
     "index": lambda args: range(len(pairings(args[0]))),
+    "even_place": lambda args: range(2 ** (len(args[0]) - 1)),
+    "other_face": lambda args: [face for face in range(len(args[0])) if face != args[2]],
 }
 
 # Further wrong values, of the form of right ones, for the bodies that the tests take.
@@ -436,6 +512,41 @@ FALSE_FRIENDS = {
         (False,) * len(edges(body))],
     "flows": lambda body: [
         (0,) * len(edges(body)), (1,) * len(edges(body)), tuple(2 * item + 1 for item in flows(body, edges(body)[3]))],
+    "thick": lambda body: [
+        (0,) + (1,) * (len(edges(body)) - 1), (1,) * (len(edges(body)) - 1) + (21,), (True,) * len(edges(body)),
+        (-1,) * len(edges(body)), (1,) * len(corners(body)), [1] * len(edges(body)), 1],
+    "filled": lambda filled: [
+        filled[2], (filled[0] + 1,) + filled[1:], (filled[1] + 1, filled[0], filled[2]), filled[:2] + ((),),
+        (1, 1, ((0, 0, True),)), (True, 1, ((0, 0, 1),)), (1, 1, ((0, 0),)), (1, 1, [(0, 0, 1)]), (1, 1, ([0, 0, 1],)),
+        (2, 2, ((0, 0, 1), (0, 1, 1), (1, 0, 1))), (2, 1, ((1, 0, 1), (0, 0, 1))), (2, 1, ((0, 0, 1), (0, 0, 1))),
+        (0, 0, ((0, 0, 0),)), (2, 2, ((0, 0, 1), (0, 0, 2))), (2, 2, ((-1, 0, 2),)), (2, 2, ((1, 0, 2),)),
+        (2, 2, ((0, 0, 0), (0, 0, 2))), (10 ** 12 + 1, 10 ** 12 + 1, ((0, 0, 10 ** 12 + 1),)),
+        (41, 1, tuple((at, 0, 1) for at in range(41))), (3, 3, ((0, 0, 2), (1, 1, 2), (2, 0, 1))),
+        filled[:2] + (filled[2][::-1],), filled[:2] + (filled[2][1:],), filled[:2] + (filled[2] + filled[2][:1],)],
+    "faces": lambda body: [
+        (0, 0), (1, 0), (0, len(body)), (-1, 0), (True,), (0, True), [0], 0, ((0,),), (0, None), "faces"],
+    "even": lambda body: [
+        a_rim(body)[::-1], a_rim(body)[1:], a_rim(body)[:1] * 2, edges(body)[:1], (edges(body)[0],),
+        tuple(edges(body)), tear(body, tuple(corners(body)[:1])), tuple(edge[::-1] for edge in a_rim(body)),
+        a_rim(body) + ((0, 99),)],
+    "corners": lambda body: [
+        tuple(corners(body)[::-1]), corners(body), tuple(corners(body)[:1]) * 2, (0, 1, 2), ((0, 1),), ((0, 0, 1),),
+        ((0, 1, True),), ((0, 1, len(body)),), (list(corners(body)[0]),), (corners(body)[0][::-1],), ((0, 1, 2, 3),),
+        ((2, 3, 4),) if len(body) == 6 else ((1, 2, 4),)],
+    "tear": lambda body: [
+        a_tear(body)[::-1], a_tear(body)[1:], a_tear(body)[:1] * 2, (edges(body)[1],), a_rim(body)[:-1],
+        tuple(edge[::-1] for edge in a_tear(body)), a_tear(body) + ((0, 99),), edges(body)],
+    "bonds": lambda body: [
+        ((1001, 0),) * len(edges(body)), ((0, -1001),) * len(edges(body)), ((0, True),) * len(edges(body)),
+        ([0, 0],) * len(edges(body)), ((0, 0, 0),) * len(edges(body)), (0,) * len(edges(body)), ((0,),), ((0, 0),) * 3,
+        [(0, 0)] * len(edges(body)), ((0, None),) * len(edges(body)), ((0, 0),) * (len(edges(body)) + 1)],
+    "half_bonds": lambda body: FALSE_FRIENDS["bonds"](body) + [
+        ((501, 500),) * len(edges(body)), ((0, 0),) * (len(edges(body)) - 1) + ((-1, 1000),),
+        ((500, -501),) + ((0, 0),) * (len(edges(body)) - 1)],
+    "stream": lambda body: [
+        (2,) * len(edges(body)), tuple(-item for item in stream(*between_faces(body))), [0] * len(edges(body)),
+        (0,) * (len(edges(body)) - 1), (False,) * len(edges(body)), (0,) * len(edges(body)) + (0,),
+        (1,) + (0,) * (len(edges(body)) - 1), (0.0,) * len(edges(body))],
     "way": lambda body: [way_down(body)[::-1] + ((0, 0),), way_down(body)[:-1] + ((0, len(body)),)],
 }
 
@@ -486,6 +597,11 @@ def are_some(value, fine):
 
 # Some values that small faults make are right ones by chance.
 CHANCES = {
+    "thick": lambda value, fine: are_numbers(value, len(fine), 20) and min(value) >= 1,
+    "faces": lambda value, fine: is_some_land(value, fine) or type(value) is tuple and len(value) == 0,
+    "even": lambda value, fine: type(value) is tuple and len(value) == 0,
+    "tear": lambda value, fine: type(value) is tuple and len(value) == 0,
+    "corners": are_some,
     "some": are_some,
     "load": lambda value, fine: are_numbers(value, len(fine), 10 ** 9),
     "even_load": lambda value, fine: are_numbers(value, len(fine), 10 ** 9) and sum(value) == 0,

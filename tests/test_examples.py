@@ -6,6 +6,7 @@ import pathlib
 import unittest
 
 from huesandrounds.forms import plain
+from huesandrounds.squares import rectangle
 from huesandrounds.trees import tree_at
 from tests.support import F, H, K, P, Q, R
 
@@ -16,7 +17,7 @@ class Examples(unittest.TestCase):
     def run_file(self, path):
         module = importlib.import_module(f"huesandrounds.{path.stem}")
         names = {name: worth for name, worth in vars(module).items() if not name.startswith("_")}
-        names.update(F=F, P=P, K=K, Q=Q, H=H, R=R, plain=plain, tree_at=tree_at)
+        names.update(F=F, P=P, K=K, Q=Q, H=H, R=R, plain=plain, tree_at=tree_at, rectangle=rectangle)
         parsed = doctest.DocTestParser().get_doctest(path.read_text(), names, path.stem, str(path), 0)
         self.assertGreater(len(parsed.examples), 0)
         told = []

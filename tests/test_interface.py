@@ -58,6 +58,18 @@ INTERFACE = {
     "wires": "sizes(body,gap) flows(body,gap) levels(body,gap) places(body,gap) measure(body,gap) "
              "least_flows(body,gap) are_flows(body,gap,value)",
     "shares": "drop(body,corner,last)",
+    "thick": "thick_sizes(body,gap,thick) thick_flows(body,gap,thick) thick_levels(body,gap,thick) "
+             "tiled(body,gap,thick)",
+    "squares": "still(body,gap) rectangle(body,gap) perfect_gaps(body) is_filled(value) is_perfect(filled) "
+               "crosses(filled) turned(filled)",
+    "filling": "level_lines(filled) upright_lines(filled) told_back(filled)",
+    "evenlots": "is_even(body,value) rim(body,faces) faces_of(body,lot) rings_of(body,lot) even_lots(body) "
+                "even_at(body,index) even_index(body,lot) even_sizes(body) count_covers(body)",
+    "tears": "is_tear(body,value) tear(body,corners) corners_of(body,lot) tear_sizes(body) split(body,lot) "
+             "count_bicycles(body) bicycles(body) zigzags(body) edge_kind(body,edge)",
+    "weighing": "corner_sum(body,bonds) face_sum(body,bonds) turned_bonds(body,bonds)",
+    "streams": "least_rim(body,prices,face,last) stream(body,prices,face,last) is_stream(body,prices,face,last,value) "
+               "greatest_tear(body,prices) same_price(body,prices)",
 }
 
 
