@@ -114,6 +114,11 @@ def rings_outside(body, struck):
     return [tuple([places[at] for at in ring]) for ring in rings]
 
 
+def chain_list(body, hues):
+    """A list of all chains of any two hues."""
+    return [ring for hue in range(3) for ring in rings_outside(body, [item == hue for item in hues])]
+
+
 def is_perfect(body, hues):
     """Whether the edges of each two hues are one ring."""
     check_body(body)

@@ -104,6 +104,11 @@ def to_faces(body, hues, hue):
     check_body(body)
     check_hues(body, hues)
     check_hue(hue, 3)
+    return faces_from(body, hues, hue)
+
+
+def faces_from(body, hues, hue):
+    """What `to_faces` tells of what is taken to be right."""
     places = edge_places(body)
     found = {0: hue}
     for ahead, face in tree_from_zero(body):

@@ -58,6 +58,11 @@ def is_own_mirror(body):
 def bodies(faces):
     """The ascending list of all plain forms of bodies with so many faces."""
     check_number(faces, LEAST_FACES, MOST_LISTED)
+    return form_list(faces)
+
+
+def form_list(faces):
+    """What `bodies` tells of a number that is taken to be right."""
     forms = [FOUR_FACES]
     for _ in range(LEAST_FACES, faces):
         # Each body is healed to one with a face less, so cuts lead to all of them.

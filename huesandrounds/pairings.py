@@ -47,6 +47,11 @@ def pairings_at(body, corner):
     """How many pairings have each edge of a corner, and how many there are without the corner and those next to it."""
     check_body(body)
     check_corner(body, corner)
+    return pairings_by(body, corner)
+
+
+def pairings_by(body, corner):
+    """What `pairings_at` tells of what is taken to be a corner."""
     at = corner_list(body).index(corner)
     around = corner_edges(body)[at]
     found = coverings(body, ())

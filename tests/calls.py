@@ -8,7 +8,8 @@ import importlib
 from huesandrounds import errors
 from huesandrounds.allowed import denial
 from huesandrounds.arrows import right_arrows
-from huesandrounds.bodies import corners, edges
+from huesandrounds.benches import Bench
+from huesandrounds.bodies import belts, corners, edges
 from huesandrounds.cutting import seams, way_down
 from huesandrounds.evenlots import rim
 from huesandrounds.facehues import first_face_hues, to_edges
@@ -22,8 +23,10 @@ from huesandrounds.signs import signs_of
 from huesandrounds.squares import rectangle
 from huesandrounds.streams import stream
 from huesandrounds.tears import tear
+from huesandrounds.texts import body_text, edges_text, face_text, hues_text, script_text, signs_text
 from huesandrounds.trees import count_trees, rest, tree_at
 from huesandrounds.turning import turnable
+from huesandrounds.values import Body, Hues
 from huesandrounds.wires import flows
 from huesandrounds.wording import word
 from tests.support import F, K, P, Q, bent, deep, odd_integers, odd_values
@@ -65,7 +68,10 @@ ERRORS = {
     "moves": errors.InvalidMoves, "thick": errors.InvalidThick, "filled": errors.InvalidFilled,
     "faces": errors.InvalidFaces, "even": errors.InvalidEven, "even_place": errors.InvalidNumber,
     "corners": errors.InvalidCorners, "tear": errors.InvalidTear, "bonds": errors.InvalidBonds,
-    "half_bonds": errors.InvalidBonds, "other_face": errors.InvalidFace,
+    "half_bonds": errors.InvalidBonds, "other_face": errors.InvalidFace, "belt": errors.InvalidBelt,
+    "sides": errors.InvalidSides, "great_sides": errors.InvalidSides, "modulus": errors.InvalidNumber,
+    "edge_facts": errors.InvalidFacts, "body_facts": errors.InvalidFacts, "text": errors.InvalidText,
+    "stand": errors.InvalidStand, "step": errors.InvalidStep, "script": errors.InvalidScript,
 }
 
 
@@ -168,6 +174,21 @@ def bonds_on(body):
 def between_faces(body):
     """Arguments for what takes prices and two unlike faces."""
     return (body, (1,) * len(edges(body)), len(body) - 1, 0)
+
+
+def a_belt(body):
+    return (body, belts(body)[-1]) if belts(body) else None
+
+
+def stand_on(body):
+    return (body, hues_on(body), rounds(body)[0], first_tree(body))
+
+
+SCRIPT = (("rename", (1, 2, 0)), ("paint",), ("cut", (0, 1, 2)), ("exchange", (0, 1), 1), ("trace", 2))
+
+
+def edge_facts(body):
+    return tuple(zip(edges(body)[:5], hues_on(body))) + ((edges(body)[0], 2),)
 
 
 def some_facts(body):
@@ -393,6 +414,47 @@ CALLS = [
     Call("streams.is_stream", "body prices face other_face ?stream",
          lambda body: between_faces(body) + (stream(*between_faces(body)),)),
     Call("streams.greatest_tear", "body prices", lambda body: (body, (10 ** 20,) * len(edges(body)))),
+    Call("putting.put_together", "body corner body corner",
+         lambda body: (body, corners(body)[0], body[:], corners(body)[-1])),
+    Call("putting.parted", "body belt", a_belt, bodies=(P, Q)),
+    Call("putting.left_out", "body corner", lambda body: (body, corners(body)[-1])),
+    Call("putting.joined_counts", "body corner body corner",
+         lambda body: (body, corners(body)[1], body[:], corners(body)[-2])),
+    Call("putting.joined_face_hues", "body body colours", lambda body: (body, body[:], 10 ** 12), 10),
+    Call("putting.parts", "body", lambda body: (body,)),
+    Call("drums.drum", "sides", lambda body: (len(body) - 2 if len(body) > 4 else 3,)),
+    Call("drums.drum_rounds", "great_sides", lambda body: (10 ** 30 - len(body),)),
+    Call("drums.drum_edge_hues", "great_sides modulus", lambda body: (10 ** 30 - len(body), 10 ** 12)),
+    Call("drums.drum_face_hues", "great_sides colours modulus", lambda body: (10 ** 30, 10 ** 12, 10 ** 12)),
+    Call("drums.drum_pairings", "great_sides modulus", lambda body: (10 ** 30 - len(body), 10 ** 12 - 1)),
+    Call("drums.drum_trees", "great_sides modulus", lambda body: (10 ** 30 - 1, 10 ** 12)),
+    Call("telling.hues_told", "body edge_facts", lambda body: (body, edge_facts(body)), 7),
+    Call("telling.surely", "body edge_facts edge", lambda body: (body, edge_facts(body)[:1], edges(body)[-1]), 7),
+    Call("telling.fewest_told", "body hues", lambda body: (body, hues_on(body)), 7),
+    Call("telling.rounds_told", "body some some",
+         lambda body: (body, tuple(edges(body)[::4]), tuple(edges(body)[1::9])), 7),
+    Call("telling.pairings_told", "body some some",
+         lambda body: (body, tuple(edges(body)[:1]), tuple(edges(body)[1::5])), 7),
+    Call("telling.bodies_told", "small body_facts", lambda body: (6, (("belts", 0), ("fours", 6), ("hues", 24)))),
+    Call("telling.told_apart", "body body", lambda body: (body, body[:]), 7),
+    Call("texts.body_text", "body", lambda body: (body,)),
+    Call("texts.hues_text", "body hues", lambda body: (body, hues_on(body))),
+    Call("texts.face_text", "body face_hues", lambda body: (body, first_face_hues(body))),
+    Call("texts.signs_text", "body signs", lambda body: (body, signs_on(body))),
+    Call("texts.edges_text", "body some", lambda body: (body, tuple(edges(body)[::2]))),
+    Call("texts.read_body", "text", lambda body: (body_text(body),)),
+    Call("texts.read_hues", "body text", lambda body: (body, hues_text(body, hues_on(body)))),
+    Call("texts.read_faces", "body text", lambda body: (body, face_text(body, first_face_hues(body)))),
+    Call("texts.read_signs", "body text", lambda body: (body, signs_text(body, signs_on(body)))),
+    Call("texts.read_edges", "body text", lambda body: (body, edges_text(body, tuple(edges(body))))),
+    Call("texts.script_text", "script", lambda body: (SCRIPT,)),
+    Call("texts.read_script", "text", lambda body: (script_text(SCRIPT),)),
+    Call("stands.is_stand", "?stand", lambda body: (stand_on(body),)),
+    Call("stands.is_step", "?step", lambda body: (("graft", (0, 1), (10, 11)),)),
+    Call("stands.is_script", "?script", lambda body: (SCRIPT,)),
+    Call("stands.done", "stand step", lambda body: (stand_on(body), ("flip", stand_on(body)[2][0]))),
+    Call("stands.course", "stand script", lambda body: (stand_on(body), (("rename", (1, 0, 2)),) * 3)),
+    Call("stands.back", "stand step", lambda body: (stand_on(body), ("flop", stand_on(body)[2][0]))),
     Call("streams.same_price", "body prices", lambda body: (body, tuple(2 ** at for at in range(len(edges(body))))),
          9),
 ]
@@ -410,6 +472,8 @@ RANGES = {
     "index": lambda args: range(len(pairings(args[0]))),
     "even_place": lambda args: range(2 ** (len(args[0]) - 1)),
     "other_face": lambda args: [face for face in range(len(args[0])) if face != args[2]],
+    "sides": lambda args: range(3, 11), "great_sides": lambda args: range(3, 10 ** 30 + 1),
+    "modulus": lambda args: range(1, 10 ** 12 + 1),
 }
 
 # Further wrong values, of the form of right ones, for the bodies that the tests take.
@@ -547,6 +611,41 @@ FALSE_FRIENDS = {
         (2,) * len(edges(body)), tuple(-item for item in stream(*between_faces(body))), [0] * len(edges(body)),
         (0,) * (len(edges(body)) - 1), (False,) * len(edges(body)), (0,) * len(edges(body)) + (0,),
         (1,) + (0,) * (len(edges(body)) - 1), (0.0,) * len(edges(body))],
+    "belt": lambda body: corners(body) + [
+        (0, 1, 2)[::-1], (1, 3, 2), (3, 2, 1), (1, 2), (1, 2, 3, 4), (1, 2, True), (1, 1, 2), (1, 2, len(body)),
+        [1, 2, 3], (0, 1, 4), ((1, 2), (2, 3), (1, 3))],
+    "edge_facts": lambda body: [
+        (((0, 1), 3),), (((0, 1), -1),), (((0, 1), True),), (((1, 0), 0),), (((0, len(body)), 0),), ((0, 1),),
+        (((0, 1),),), (((0, 1), 0, 0),), (((0, 1), 0),) * 7, [((0, 1), 0)], ([(0, 1), 0],), (((0, 1), None),),
+        (((0, True), 0),), ((0, 1), 0)],
+    "body_facts": lambda faces: [
+        (("hue", 0),), (("hues", -1),), (("hues", 1001),), (("hues", True),), (("hues",),), (("hues", 1, 1),),
+        (("hues", 6),) * 6, [("hues", 6)], (["hues", 6],), ("hues", 6), ((6, "hues"),), (("sixes", 0),), (("", 0),),
+        ((("hues",), 6),), ((None, 6),), (("Hues", 6),), (("hues", "6"),), (("hues ", 6),)],
+    "stand": lambda stand: [
+        stand[:3], stand + ((),), list(stand), stand[::-1], (stand[0], stand[1], stand[2], stand[2]),
+        (stand[0], stand[1], stand[3], stand[3]), (stand[0], stand[1][::-1] + (0,), stand[2], stand[3]),
+        (P if len(stand[0]) != 5 else F,) + stand[1:], (stand[0], (0,) * len(stand[1]), stand[2], stand[3]),
+        (stand[0], stand[1], stand[2], stand[3][:-1]), (stand[0], stand[1], stand[2][1:], stand[3]),
+        (stand[0], stand[1], stand[2], stand[3][::-1]), (Body(*stand[0]),) + stand[1:], Bench(stand),
+        (stand[0], Hues(stand[0], *stand[1])) + stand[2:]],
+    "step": lambda _: [
+        ("paint", ()), ("paints",), (), ("",), "paint", ["paint"], (("paint",),), ("exchange", (0, 1)),
+        ("exchange", (0, 1), 3), ("exchange", (0, 1), -1), ("exchange", (0, 1), True), ("exchange", (1, 0), 0),
+        ("exchange", (0, 12), 0), ("exchange", (-1, 0), 0), ("exchange", (0, 0), 0), ("exchange", [0, 1], 0),
+        ("exchange", (0, 1, 2), 0), ("exchange", 0, 1), ("exchange", (0, 1), 1, 2), ("rename", (0, 1)),
+        ("rename", (0, 1, 1)), ("rename", (0, 1, 3)), ("rename", (0, 1, 2, 0)), ("rename", 0, 1, 2), ("rename", 12),
+        ("rename", (0, True, 2)), ("rename", [0, 1, 2]), ("rename",), ("flip", (1, 0)), ("flip", (0, True)), ("flip",),
+        ("flip", (0, 1), (0, 2)), ("flop", (11, 12)), ("flop", (0, 1, 2)), ("graft", (0, 1)), ("graft", (0, 1), 2),
+        ("graft", (0, 1), (1, 0)), ("graft", (1, 0), (0, 1)), ("graft", (0, 1), (0, 1), (0, 1)), ("trace",),
+        ("trace", 3), ("trace", -1), ("trace", True), ("trace", (0,)), ("trace", 0, 1), ("cut", (0, 1)),
+        ("cut", (0, 1, 12)), ("cut", (1, 0, 2)), ("cut", (0, 0, 1)), ("cut", ((0, 1, 2), -1)), ("cut", [0, 1, 2]),
+        ("cut", (0, 1, 2), -1), ("cut",), ("heal", 12), ("heal", -1), ("heal", True), ("heal", (0,)), ("heal", None),
+        ("heal", 3, -1), ("heal",), ("Heal", 3), ("heal ", 3), (None, 3), (["heal"], 3), ((), 3), (0, 3),
+        (deep(tuple, 90), 3), ("cut", deep(tuple, 90)), ("flip", (deep(tuple, 90),) * 2)],
+    "script": lambda script: [
+        list(script), script * 3, (("paint",),) * 13, ("paint",), (("paint",), "paint"), (("paint",), ("paints",)),
+        (("paint",), None), (["paint"],), ((("paint",),),), "paint", (("exchange", (0, 1), 3),)],
     "way": lambda body: [way_down(body)[::-1] + ((0, 0),), way_down(body)[:-1] + ((0, len(body)),)],
 }
 
@@ -567,6 +666,19 @@ def are_facts(value):
     if type(value) is not tuple or len(value) > 6:
         return False
     return all(type(item) is tuple and item in ((0, 1, True), (1, 2, False)) for item in value)
+
+
+def is_part(value, fine, most):
+    """Whether a value is a tuple of some of those items that are right ones, in any order."""
+    if type(value) is not tuple or len(value) > most:
+        return False
+    return all(type(item) is tuple and repr(item) in map(repr, fine) for item in value if not is_great(item))\
+        and not any(map(is_great, value))
+
+
+def is_great(value):
+    """Whether a value is one that is nested too deep to be shown."""
+    return type(value) in (tuple, list) and len(value) == 90
 
 
 def is_some_land(value, fine):
@@ -597,6 +709,9 @@ def are_some(value, fine):
 
 # Some values that small faults make are right ones by chance.
 CHANCES = {
+    "edge_facts": lambda value, fine: is_part(value, fine, 6),
+    "body_facts": lambda value, fine: is_part(value, fine, 5),
+    "script": lambda value, fine: is_part(value, fine, 12),
     "thick": lambda value, fine: are_numbers(value, len(fine), 20) and min(value) >= 1,
     "faces": lambda value, fine: is_some_land(value, fine) or type(value) is tuple and len(value) == 0,
     "even": lambda value, fine: type(value) is tuple and len(value) == 0,
@@ -633,6 +748,19 @@ def bent_words(text):
             text + " ", text + "\n", [text], (text,), list(text), tuple(text), "(])[", ")([]", "[[]", "()" * 11]
 
 
+def bent_texts(text):
+    """Texts with a sign too many, too few, or another one, and values of other kinds."""
+    found = [text[:-1], text[1:], text + " ", " " + text, text + "\n", "\n" + text, text + "0", "0" + text, text * 2,
+             text.replace("1", "01", 1), text.replace("1", "+1", 1), text.replace("1", "1 ", 1), text.upper() + "A",
+             text.replace("0", "9", 1), text.replace("0", "", 1), text.replace("1", "", 1), text.replace(" ", "  ", 1),
+             text.replace(" ", "", 1), text.replace(" ", "\n", 1), text.replace("-", "--", 1), text.replace("-", "", 1),
+             text.replace("-", "+", 1), text.replace("+", "*", 1), text.replace("/", "|", 1),
+             text.replace("/", "//", 1),
+             text.replace("\n", " ", 1), text.replace("\n", "\n\n", 1), text.replace("1", "1_0", 1), [text], (text,),
+             list(text), tuple(text), "x" * 1000, "0" * 1000, " " * 1000, "-" * 1000, "/ " * 500, "\n" * 1000]
+    return [value for value in found if value != text]
+
+
 def wrong_values(call, args, at):
     """Wrong values for the argument at an index, all others being right."""
     kind = call.kinds[at].lstrip("?")
@@ -641,9 +769,14 @@ def wrong_values(call, args, at):
         return odd_values() + odd_integers() + near
     if kind == "word":
         return odd_values() + odd_integers() + bent_words(args[at])
+    if kind == "text":
+        found = odd_values() + odd_integers() + bent_texts(args[at])
+        # No steps, and no edges, are written as the empty text.
+        return [value for value in found if value != "" or call.name not in ("read_edges", "read_script")]
     if kind in RANGES:
         fine = RANGES[kind](args)
-        given = odd_values() + odd_integers() + list(range(-2, 15)) + [10 ** 12 + 1, -(10 ** 12) - 1, 10 ** 22 + 1]
+        given = odd_values() + odd_integers() + list(range(-2, 15))
+        given += [10 ** 12 + 1, -(10 ** 12) - 1, 10 ** 22 + 1, 10 ** 30 + 1]
         return [value for value in given if type(value) is not int or value not in fine]
     body = args[0] if kind != "body" else args[at]
     found = odd_values() + odd_integers() + bent(args[at]) + FALSE_FRIENDS[kind](body)

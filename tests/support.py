@@ -2,9 +2,11 @@
 
 import random
 
+from huesandrounds.benches import Bench
 from huesandrounds.bodies import corners, edges
 from huesandrounds.cutting import cut, spots
 from huesandrounds.errors import InvalidBody, TooMany
+from huesandrounds.values import Body, Hues
 
 F = ((1, 2, 3), (0, 3, 2), (0, 1, 3), (0, 2, 1))
 P = ((1, 2, 3), (0, 3, 4, 2), (0, 1, 4, 3), (0, 2, 4, 1), (1, 3, 2))
@@ -12,6 +14,8 @@ K = ((1, 2, 3, 4), (0, 4, 5, 2), (0, 1, 5, 3), (0, 2, 5, 4), (0, 3, 5, 1), (1, 4
 Q = ((1, 5, 2, 3), (0, 3, 4, 2, 5), (0, 5, 1, 4, 3), (0, 2, 4, 1), (1, 3, 2), (0, 1, 2))
 H = (0, 1, 2, 2, 1, 0)
 R = ((0, 1), (0, 2), (1, 3), (2, 3))
+T = ((0, 1), (0, 2), (1, 2))
+X = (F, H, R, T)
 
 
 def drawn(faces, seed):
@@ -96,7 +100,8 @@ def odd_values():
         None, True, False, "", "0", "ab", "x" * 1000, " \n~", [], (), [0], (None,), (True, False), ((),), [[]],
         (0, "1"), ("0", "1", "2"), ([0, 1], [2, 3]), (0, (1, 2)), (-1, -1), (10 ** 119, 10 ** 119),
         deep(tuple, 1), deep(list, 1), deep(tuple, 90), deep(list, 90), (0,) * 90, ((0, 1),) * 90,
-        (deep(tuple, 1)[0],) * 6, InvalidBody("odd"), TooMany(3), (TooMany(3),) * 4,
+        (deep(tuple, 1)[0],) * 6, InvalidBody("odd"), TooMany(3), (TooMany(3),) * 4, Body(*F), Hues(F, *H), Bench(X),
+        (Body(*F), H, R, T), (Hues(F, *H), Hues(F, *H)), (Bench(X),) * 6,
     ]
 
 

@@ -5,7 +5,7 @@ import importlib
 import pathlib
 import unittest
 
-from huesandrounds.forms import plain
+from huesandrounds.forms import mirrored, plain
 from huesandrounds.squares import rectangle
 from huesandrounds.trees import tree_at
 from tests.support import F, H, K, P, Q, R
@@ -17,7 +17,8 @@ class Examples(unittest.TestCase):
     def run_file(self, path):
         module = importlib.import_module(f"huesandrounds.{path.stem}")
         names = {name: worth for name, worth in vars(module).items() if not name.startswith("_")}
-        names.update(F=F, P=P, K=K, Q=Q, H=H, R=R, plain=plain, tree_at=tree_at, rectangle=rectangle)
+        names.update(F=F, P=P, K=K, Q=Q, H=H, R=R, plain=plain, tree_at=tree_at, rectangle=rectangle,
+                     mirrored=mirrored)
         parsed = doctest.DocTestParser().get_doctest(path.read_text(), names, path.stem, str(path), 0)
         self.assertGreater(len(parsed.examples), 0)
         told = []

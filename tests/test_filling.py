@@ -73,7 +73,8 @@ class Lines(unittest.TestCase):
         for body in some_bodies(4, 12, 1) + [K, ball()]:
             for gap in edges_of(body)[::6]:
                 filled = rectangle(body, gap)
-                for lines, (width, height) in ((level_lines(filled), filled[:2]), (upright_lines(filled), filled[1::-1])):
+                for lines, (width, height) in ((level_lines(filled), filled[:2]),
+                                               (upright_lines(filled), filled[1::-1])):
                     self.assertEqual(lines, sorted(set(lines)))
                     self.assertEqual((lines[0], lines[-1]), ((0, 0, width), (height, 0, width)))
 
@@ -120,6 +121,7 @@ class Back(unittest.TestCase):
 
     def test_no_filled_rectangles(self):
         for call in (level_lines, upright_lines, told_back):
-            for number, value in enumerate(odd_values() + [(2, 2, ((0, 0, 1),)), grid(41, 1), list(L), L[:2] + (None,)]):
+            wrong = [(2, 2, ((0, 0, 1),)), grid(41, 1), list(L), L[:2] + (None,)]
+            for number, value in enumerate(odd_values() + wrong):
                 with self.assertRaises(InvalidFilled, msg=number):
                     call(value)

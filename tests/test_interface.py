@@ -4,6 +4,10 @@ import importlib
 import inspect
 import unittest
 
+from huesandrounds.benches import Bench
+from huesandrounds.values import Body, Hues
+from tests.support import F, X
+
 INTERFACE = {
     "bodies": "is_body(value) edges(body) corners(body) counts_of(body) belts(body)",
     "cutting": "spots(body) seams(body) cut(body,spot) healed(body,seam) way_down(body) is_way_down(body,value)",
@@ -70,10 +74,52 @@ INTERFACE = {
     "weighing": "corner_sum(body,bonds) face_sum(body,bonds) turned_bonds(body,bonds)",
     "streams": "least_rim(body,prices,face,last) stream(body,prices,face,last) is_stream(body,prices,face,last,value) "
                "greatest_tear(body,prices) same_price(body,prices)",
+    "putting": "put_together(one,corner,other,last) parted(body,belt) left_out(body,corner) "
+               "joined_counts(one,corner,other,last) joined_face_hues(one,other,many) parts(body)",
+    "drums": "drum(sides) drum_rounds(sides) drum_edge_hues(sides,modulus) drum_face_hues(sides,many,modulus) "
+             "drum_pairings(sides,modulus) drum_trees(sides,modulus)",
+    "telling": "hues_told(body,facts) surely(body,facts,edge) fewest_told(body,hues) rounds_told(body,ins,outs) "
+               "pairings_told(body,ins,outs) bodies_told(faces,facts) told_apart(one,other)",
+    "texts": "body_text(body) hues_text(body,hues) face_text(body,face_hues) signs_text(body,signs) "
+             "edges_text(body,some) read_body(text) read_hues(body,text) read_faces(body,text) read_signs(body,text) "
+             "read_edges(body,text) script_text(script) read_script(text)",
+    "stands": "is_stand(value) is_step(value) is_script(value) done(stand,step) course(stand,script) back(stand,step)",
+}
+# The classes, with the methods that are defined in them, and their properties.
+CLASSES = {
+    "values.Body": ("__init__ read like __xor__ __ixor__ __sub__ __invert__ __add__ __or__ __call__ __getitem__ "
+                    "__contains__ __len__ __bool__ __str__ __iter__ __eq__", "source"),
+    "values.Hues": ("__init__ read kin __xor__ __ixor__ __add__ __sub__ __invert__ __call__ __getitem__ __contains__ "
+                    "__len__ __bool__ __str__ __iter__ __eq__", "body source"),
+    "benches.Bench": ("__init__ do __iadd__ undo redo attempt __getitem__ __contains__ __len__ __bool__ __iter__ "
+                      "__eq__ lines", "stand body hues tour tree signs faces lands pairing log"),
 }
 
 
 class Interface(unittest.TestCase):
+    def test_all_classes(self):
+        for name, (methods, properties) in CLASSES.items():
+            module, word = name.split(".")
+            place = importlib.import_module(f"huesandrounds.{module}")
+            told = getattr(place, word)
+            self.assertEqual((told.__module__, told.__bases__), (place.__name__, (object,)))
+            for method in methods.split():
+                self.assertIn(method, vars(told), name)
+            for item in properties.split():
+                self.assertIsInstance(vars(told)[item], property, name)
+
+    def test_parameters_of_methods(self):
+        for call, words in ((Body.read, "text"), (Hues.read, "body text"), (Bench.do, "self step"),
+                            (Bench.attempt, "self action"), (Bench.undo, "self"), (Bench.redo, "self"),
+                            (Bench.lines, "self"), (Body.like, "self other"), (Hues.kin, "self other"),
+                            (Bench.__init__, "self stand"), (Body.__init__, "self rings"),
+                            (Hues.__init__, "self body hues")):
+            self.assertEqual(list(inspect.signature(call).parameters), words.split())
+
+    def test_class_values(self):
+        self.assertEqual((Body.MOST, Bench.MOST, Body(*F).MOST, Bench(X).MOST), (12, 60, 12, 60))
+        self.assertTrue(inspect.isgeneratorfunction(Bench.lines))
+
     def test_all_functions(self):
         for module, told in INTERFACE.items():
             place = importlib.import_module(f"huesandrounds.{module}")

@@ -11,9 +11,13 @@ FOLDER = pathlib.Path(__file__).parent.parent / "huesandrounds"
 FILES = sorted(FOLDER.glob("*.py"))
 LIBRARY = {"math": {"gcd", "lcm", "isqrt", "comb", "perm", "factorial"}}
 BUILTINS = set("""len range enumerate zip min max sum abs sorted reversed int str bool list tuple dict set isinstance
-ord repr any all divmod ValueError super""".split())
+ord repr any all divmod ValueError TypeError super property classmethod""".split())
 METHODS = set("""append clear copy count endswith extend find get index insert isdigit items join keys pop replace
-setdefault split startswith strip values zfill bit_length""".split())
+setdefault split startswith strip values zfill bit_length _led""".split())
+# Methods that run by a sign or a builtin, and those of them that may change the object itself.
+CHANGERS = {"__init__", "__ixor__", "__iadd__"}
+DOUBLE = CHANGERS | set("""__eq__ __str__ __len__ __bool__ __iter__ __contains__ __getitem__ __call__ __xor__ __add__
+__sub__ __or__ __invert__""".split())
 CHANGING = {"append", "clear", "extend", "insert", "pop", "remove", "reverse", "setdefault", "update", "sort", "add"}
 WORDS = set("""type typing enum Enum IntEnum StrEnum Flag IntFlag Generic Protocol ABC ABCMeta namedtuple NamedTuple
 TypedDict abstractmethod dataclass overload contextmanager metaclass Meta _wall""".split())
@@ -26,7 +30,8 @@ NODES = (
     ast.Dict, ast.ListComp, ast.DictComp, ast.SetComp, ast.comprehension, ast.IfExp, ast.BoolOp, ast.And, ast.Or,
     ast.BinOp, ast.UnaryOp, ast.Compare, ast.JoinedStr, ast.FormattedValue, ast.Add, ast.Sub, ast.Mult,
     ast.FloorDiv, ast.Mod, ast.Pow, ast.LShift, ast.BitXor, ast.BitAnd, ast.BitOr, ast.RShift, ast.Not, ast.USub,
-    ast.Eq, ast.NotEq, ast.Lt, ast.LtE, ast.Gt, ast.GtE, ast.In, ast.NotIn, ast.Is, ast.IsNot)
+    ast.Try, ast.Yield, ast.Starred, ast.Eq, ast.NotEq, ast.Lt, ast.LtE, ast.Gt, ast.GtE, ast.In, ast.NotIn, ast.Is,
+    ast.IsNot)
 ITERATED = {"zip", "enumerate", "reversed", "range"}
 
 
@@ -82,7 +87,7 @@ class Language(unittest.TestCase):
             self.assertNotIn("\\", text.replace("\\n", ""), path)
             for node in functions(tree):
                 self.assertLessEqual(node.end_lineno - node.lineno + 1, 40, node.name)
-                self.assertTrue(ast.get_docstring(node) or node.name == "__init__", node.name)
+                self.assertEqual(bool(ast.get_docstring(node)), node.name not in DOUBLE, node.name)
             self.assertTrue(ast.get_docstring(tree), path)
 
     def test_nodes(self):
@@ -97,8 +102,15 @@ class Language(unittest.TestCase):
                     self.assertIsInstance(node.right, ast.Constant, told)
                 if isinstance(node, ast.Compare) and isinstance(node.ops[0], (ast.Is, ast.IsNot)):
                     self.assertIsInstance(node.comparators[0], ast.Constant, told)
-                if isinstance(node, (ast.FunctionDef, ast.ClassDef)):
+                if isinstance(node, ast.ClassDef):
                     self.assertEqual(node.decorator_list, [], told)
+                if isinstance(node, ast.FunctionDef) and node.decorator_list:
+                    self.assertIn([item.id for item in node.decorator_list], (["property"], ["classmethod"]), told)
+                    self.assertNotIn(node, tree.body, told)
+                if isinstance(node, ast.Try):
+                    self.assertEqual((node.handlers, node.orelse), ([], []), told)
+                if isinstance(node, ast.Starred):
+                    self.assertIsInstance(node.value, ast.Name, told)
                 if isinstance(node, ast.For):
                     self.assertEqual(node.orelse, [], told)
 
@@ -153,10 +165,12 @@ class Language(unittest.TestCase):
                 self.assertFalse(hasattr(builtins, name) and name != "_", (path.name, name))
                 self.assertNotIn(name, NAMES, path.name)
                 self.assertNotIn(name, imports, path.name)
-                self.assertRegex(name, "^(_|_?[A-Za-z][A-Za-z0-9_]*)$|^__init__$")
+                self.assertRegex(name, "^(_|_?[A-Za-z][A-Za-z0-9_]*)$")
                 self.assertFalse(keyword.iskeyword(name) or keyword.issoftkeyword(name) and name != "_", name)
             for word in WORDS:
                 self.assertNotRegex(text, rf"\b{word}\b", path.name)
+            self.assertNotIn("(type)", text)
+            self.assertNotIn("metaclass", text)
 
     def test_what_is_read(self):
         for path, _, tree in self.each():
@@ -207,6 +221,60 @@ class Language(unittest.TestCase):
                             name = node.func.value.id
                     if name is not None:
                         self.assertTrue(made.get(name) and all(is_fresh(value) for value in made[name]), told)
+
+    def test_methods(self):
+        for path, _, tree in self.each():
+            for node in [item for item in tree.body if isinstance(item, ast.ClassDef)]:
+                methods = {item.name: item for item in node.body if isinstance(item, ast.FunctionDef)}
+                names = list(methods) + [item.targets[0].id for item in node.body if isinstance(item, ast.Assign)]
+                self.assertEqual(len(names), len(set(names)), node.name)
+                stored = {item.attr for item in ast.walk(node) if isinstance(item, ast.Attribute)
+                          and isinstance(item.ctx, ast.Store)}
+                self.assertEqual(stored & set(names), set(), node.name)
+                for name, method in methods.items():
+                    self.assertTrue(name in DOUBLE or not name.startswith("__"), name)
+                    last = method.body[-1]
+                    if name == "__iter__":
+                        self.assertEqual([type(item) for item in method.body], [ast.Raise])
+                        self.assertEqual(last.exc.func.id, "TypeError")
+                    if name in ("__len__", "__str__"):
+                        self.assertEqual([type(item) for item in method.body], [ast.Return])
+                        self.assertEqual(last.value.func.id, name.strip("_"))
+                    if name == "__eq__":
+                        self.assertEqual([type(item) for item in method.body], [ast.Return])
+                        self.assertEqual(last.value.values[0].func.id, "isinstance")
+                    if name == "__bool__":
+                        self.assertIsInstance(last, ast.Return)
+                self.assertEqual("__getitem__" in methods, "__iter__" in methods)
+
+    def test_what_operators_run_changes_nothing(self):
+        defined, methods, starts = {}, {}, []
+        for path, _, tree in self.each():
+            for node in ast.walk(tree):
+                if isinstance(node, ast.FunctionDef):
+                    defined.setdefault(node.name, []).append(node)
+                    run = node.name in DOUBLE - CHANGERS - {"__call__"}
+                    if run or "property" in [item.id for item in node.decorator_list]:
+                        starts.append(node)
+        self.assertGreater(len(starts), 30)
+        met = []
+        while starts:
+            node = starts.pop()
+            if node in met:
+                continue
+            met.append(node)
+            bound = {item.arg for item in ast.walk(node) if isinstance(item, ast.arg)}
+            for item in ast.walk(node):
+                told = (node.name, getattr(item, "lineno", 0))
+                self.assertFalse(isinstance(item, ast.Attribute) and isinstance(item.ctx, ast.Store), told)
+                self.assertNotIsInstance(item, (ast.AugAssign, ast.Delete, ast.Yield), told)
+                if isinstance(item, ast.Call) and isinstance(item.func, ast.Name):
+                    self.assertNotIn(item.func.id, bound, told)
+                    starts.extend(defined.get(item.func.id, []))
+                if isinstance(item, ast.Call) and isinstance(item.func, ast.Attribute):
+                    starts.extend(defined.get(item.func.attr, []))
+        self.assertGreater(len(met), 60)
+        # All changing of lists is looked at for all functions, whatever runs them.
 
     def test_loops_do_not_change_what_they_go_over(self):
         for path, _, tree in self.each():

@@ -5,7 +5,7 @@ import unittest
 from huesandrounds.errors import InvalidNet, TooMany
 from huesandrounds.forms import mirrored, own_turns
 from huesandrounds.nets import count_nets, like_nets, net, rim, tree_of
-from tests.brute import all_trees, begin_and_end, edges_of, ends_of, turned_of
+from tests.brute import all_trees, begin_and_end, ends_of, turned_of
 from tests.support import (F, K, P, Q, ball, bent, deep, drawn, drawn_tree, drum, odd_integers, odd_values, pair,
                            some_bodies)
 

@@ -109,8 +109,9 @@ class Filled(unittest.TestCase):
                 self.assertIs(is_filled(value), False, number)
             for number, value in enumerate(bent(filled[2]) + [deep(tuple, 90), (deep(tuple, 90),) * 2]):
                 self.assertIs(is_filled(filled[:2] + (value,)), False, number)
-        for value in ((True, 1, ((0, 0, 1),)), (1, 1, ((False, 0, 1),)), (1, 1, ((0, 0, True),)), (1, 1, ((0, 0, 1, 0),)),
-                      (1, 1, [(0, 0, 1)]), [1, 1, ((0, 0, 1),)], (2, 1, ((1, 0, 1), (0, 0, 1)))):
+        for value in ((True, 1, ((0, 0, 1),)), (1, 1, ((False, 0, 1),)), (1, 1, ((0, 0, True),)),
+                      (1, 1, ((0, 0, 1, 0),)), (1, 1, [(0, 0, 1)]), [1, 1, ((0, 0, 1),)],
+                      (2, 1, ((1, 0, 1), (0, 0, 1)))):
             self.assertIs(is_filled(value), False, value)
 
     def test_no_filled_rectangles(self):

@@ -207,8 +207,9 @@ class Wrong(unittest.TestCase):
                     corners_of(body, value)
 
     def test_no_lots_of_corners(self):
-        wrong = [all_corners(F), tuple(all_corners(F)[::-1]), ((0, 1, 2), (0, 1, 2)), (0, 1, 2), ((0, 1),), ((0, 1, 4),),
-                 ((0, 1, True),), ((2, 1, 0),), ([0, 1, 2],), ((0, 1, 2), None), deep(tuple, 90), (deep(tuple, 90),) * 2]
+        wrong = [all_corners(F), tuple(all_corners(F)[::-1]), ((0, 1, 2), (0, 1, 2)), (0, 1, 2), ((0, 1),),
+                 ((0, 1, 4),), ((0, 1, True),), ((2, 1, 0),), ([0, 1, 2],), ((0, 1, 2), None), deep(tuple, 90),
+                 (deep(tuple, 90),) * 2]
         for number, value in enumerate(wrong + [value for value in odd_values() if value != ()]):
             with self.assertRaises(InvalidCorners, msg=number):
                 tear(F, value)

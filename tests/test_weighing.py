@@ -18,7 +18,8 @@ def slow_sum(body, bonds, places, met):
     total = 0
     ends = [met(body, edge) for edge in edges_of(body)]
     for lot in lots_in(places):
-        total += prod(other if (one in lot) != (last in lot) else same for (same, other), (one, last) in zip(bonds, ends))
+        total += prod(other if (one in lot) != (last in lot) else same
+                      for (same, other), (one, last) in zip(bonds, ends))
     return total
 
 
