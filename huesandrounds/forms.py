@@ -52,7 +52,8 @@ def is_own_mirror(body):
     """Whether some own turn makes of the body what `mirrored` tells."""
     check_body(body)
     first = in_order(body, new_order(body, 0, body[0][0], 1), 1)
-    return first in [in_order(body, order, turning) for order, turning in _orders(body) if turning == -1]
+    orders = _orders(body, _sides_at(body, 0, body[0][0]))
+    return first in [in_order(body, order, turning) for order, turning in orders if turning == -1]
 
 
 def bodies(faces):
@@ -72,7 +73,10 @@ def form_list(faces):
 
 def plain_form(body):
     """The plain form of what is taken to be a body."""
-    return min([in_order(body, order, turning) for order, turning in _orders(body)])
+    # The first ring has as many numbers as the first face has sides, 1, 2, 3 and so on, and the second one those of
+    # the second face, all but the last one rising from these: the fewest sides make the least rings.
+    least = min([_sides_at(body, face, other) for face in range(len(body)) for other in body[face]])
+    return min([in_order(body, order, turning) for order, turning in _orders(body, least)])
 
 
 def turn_list(body):
@@ -80,16 +84,22 @@ def turn_list(body):
     start = new_order(body, 0, body[0][0], 1)
     form = in_order(body, start, 1)
     found = []
-    for order, turning in _orders(body):
+    for order, turning in _orders(body, _sides_at(body, 0, body[0][0])):
         if in_order(body, order, turning) == form:
             found.append(_led(start, order))
     return sorted(found)
 
 
-def _orders(body):
-    """A list of all orders by which a body can be renumbered, each with its way of turning."""
-    starts = [(face, other, turning) for face in range(len(body)) for other in body[face] for turning in (1, -1)]
-    return [(new_order(body, face, other, turning), turning) for face, other, turning in starts]
+def _sides_at(body, face, other):
+    """The pair of the sides of two faces."""
+    return (len(body[face]), len(body[other]))
+
+
+def _orders(body, sides):
+    """A list of all orders, from two faces of some sides, by which a body is renumbered, each with its turning."""
+    pairs = [(face, other) for face in range(len(body)) for other in body[face]]
+    starts = [(face, other) for face, other in pairs if _sides_at(body, face, other) == sides]
+    return [(new_order(body, face, other, turning), turning) for face, other in starts for turning in (1, -1)]
 
 
 def _led(start, order):

@@ -45,15 +45,15 @@ def pairing_list(body):
 
 def coverings(body, left_out):
     """A list of all tuples of places of edges, just one of them at each corner, and none at those left out."""
-    ends = edge_ends(body)
-    covered = [((), left_out)]
+    # Lots of corners are integers here, one binary figure for each corner.
+    marks = [(1 << one) | (1 << other) for one, other in edge_ends(body)]
+    covered = [((), sum([1 << corner for corner in left_out]))]
     for corner, around in enumerate(corner_edges(body)):
-        longer = [(row, met) for row, met in covered if corner in met]
+        own = 1 << corner
+        longer = [(row, met) for row, met in covered if (met & own) != 0]
         for row, met in covered:
-            if corner not in met:
-                free = [at for at in around if ends[at][0] not in met and ends[at][1] not in met]
-                for at in free:
-                    longer.append((row + (at,), met + ends[at]))
+            if (met & own) == 0:
+                longer.extend([(row + (at,), met | marks[at]) for at in around if (met & marks[at]) == 0])
         covered = longer
     return [row for row, _ in covered]
 

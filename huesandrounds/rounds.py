@@ -3,8 +3,7 @@
 from huesandrounds.bodies import check_body
 from huesandrounds.checking import check_edge, is_edge, is_edge_row, is_face_row
 from huesandrounds.errors import InvalidEdge, InvalidLand, InvalidTour
-from huesandrounds.lines import pairing_list, pairs_corners
-from huesandrounds.pairings import rings_beside
+from huesandrounds.lines import coverings
 from huesandrounds.structure import corner_edges, edge_ends, edge_list, edge_places, lumps, rest_of
 
 
@@ -16,11 +15,23 @@ def is_round(body, value):
 
 def is_tour(body, value):
     """Whether any value is a round of what is taken to be a body."""
-    if not is_edge_row(body, value):
+    if not isinstance(value, tuple) or len(value) != 2 * len(body) - 4 or not is_edge_row(body, value):
         return False
-    # A round has two edges at each corner, so what it leaves out has one.
-    rest = rest_of(body, value)
-    return pairs_corners(body, rest) and len(rings_beside(body, rest)) == 1
+    kept = [edge in value for edge in edge_list(body)]
+    around = [[at for at in row if kept[at]] for row in corner_edges(body)]
+    return all([len(row) == 2 for row in around]) and _is_one_ring(around, edge_ends(body))
+
+
+def _is_one_ring(around, ends):
+    """Whether all corners are on one ring, given the places of two edges at each."""
+    here, edge, many = 0, around[0][0], 0
+    while here != 0 or many == 0:
+        one, other = ends[edge]
+        here = other if here == one else one
+        one, other = around[here]
+        edge = other if edge == one else one
+        many = many + 1
+    return many == len(around)
 
 
 def check_tour(body, value):
@@ -43,8 +54,16 @@ def rounds(body):
 
 def round_list(body):
     """The ascending list of all rounds of what is taken to be a body."""
-    left = [rings_beside(body, pairing) for pairing in pairing_list(body)]
-    return sorted([rings[0] for rings in left if len(rings) == 1])
+    edges = edge_list(body)
+    ends = edge_ends(body)
+    corners = corner_edges(body)
+    found = []
+    # What a round leaves out is a pairing.
+    for pairing in coverings(body, ()):
+        kept = [at not in pairing for at in range(len(edges))]
+        if _is_one_ring([[at for at in row if kept[at]] for row in corners], ends):
+            found.append(tuple([edge for edge, stays in zip(edges, kept) if stays]))
+    return sorted(found)
 
 
 def count_rounds(body):

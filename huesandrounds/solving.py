@@ -57,6 +57,29 @@ def solve(rows, column):
     return (ahead, [row[-1] for row in rows])
 
 
+def adjugate(rows):
+    """The determinant of rows, and this times the rows that undo them.
+
+    As in `solve`, there is always something left to lead.
+    """
+    ahead = 1
+    for at in range(len(rows)):
+        first = rows[at]
+        lead = first[at]
+        found = []
+        for place, row in enumerate(rows):
+            own = row[at]
+            # What undoes the rows stands where these are cleared: there is the last lead in the row that leads now.
+            if place == at:
+                found.append(first[:at] + [ahead] + first[at + 1:])
+            else:
+                struck = [(lead * item - own * above) // ahead for item, above in zip(row, first)]
+                found.append(struck[:at] + [-own] + struck[at + 1:])
+        rows = found
+        ahead = lead
+    return (ahead, rows)
+
+
 def invariants_of(rows):
     """The list of the invariants of rows whose determinant is not 0, each dividing the next one, ones among them."""
     found = []

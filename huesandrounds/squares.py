@@ -6,7 +6,7 @@ from huesandrounds.checking import check_edge
 from huesandrounds.errors import InvalidFilled
 from huesandrounds.structure import edge_list
 from huesandrounds.thick import tiles_by
-from huesandrounds.webs import plain_weights
+from huesandrounds.webs import plain_weights, push_between, tally
 from huesandrounds.wires import flow_row, measure_of
 
 MOST_SIZE = 10 ** 12
@@ -34,12 +34,14 @@ def rectangle(body, gap):
 def perfect_gaps(body):
     """The ascending list of all gaps whose rectangle is perfect, no edge being still."""
     check_body(body)
-    return [gap for gap in edge_list(body) if _parts_all(body, gap)]
+    _, rows = tally(body)
+    edges = edge_list(body)
+    return [gap for gap in edges if _parts_all(edges, gap, push_between(rows, gap[1], gap[0]))]
 
 
-def _parts_all(body, gap):
-    """Whether the flows of all edges but the gap, without their signs, are unlike, and none is 0."""
-    sides = sorted([abs(flow) for edge, flow in zip(edge_list(body), flow_row(body, gap)) if edge != gap])
+def _parts_all(edges, gap, places):
+    """Whether the flows of all edges but the gap, by places of the faces, are unlike without signs, and none is 0."""
+    sides = sorted([abs(places[edge[1]] - places[edge[0]]) for edge in edges if edge != gap])
     return sides[0] > 0 and is_ascending(sides)
 
 

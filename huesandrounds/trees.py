@@ -7,7 +7,8 @@ from huesandrounds.bodies import check_body
 from huesandrounds.checking import check_edge, check_edges, check_number, is_edge_row
 from huesandrounds.errors import InvalidTree
 from huesandrounds.structure import edge_list, lumps, rest_of
-from huesandrounds.webs import CORNERS, FACES, check_web, plain_weights, sum_of_trees, web_size, web_ties
+from huesandrounds.webs import (CORNERS, FACES, check_web, plain_weights, push_between, sum_of_trees, tally, web_size,
+                                web_ties)
 
 
 def is_edge_tree(body, value):
@@ -72,16 +73,17 @@ def _count_with(body, inside, outside):
     """What `trees_with` tells of what is taken to be edges."""
     if any([edge in outside for edge in inside]):
         return 0
-    lots = _lots_tied(body, CORNERS, inside)
-    if len(lots) != web_size(body, CORNERS) - len(inside):
+    # The rests are counted, trees of faces, which have all of the latter and none of the former.
+    lots = _lots_tied(body, FACES, outside)
+    if len(lots) != web_size(body, FACES) - len(outside):
         return 0
     # Places that edges of the tree tie are as one.
     lot_of = {}
     for at, lot in enumerate(lots):
         for place in lot:
             lot_of[place] = at
-    ties = [(lot_of[one], lot_of[other]) for one, other in web_ties(body, CORNERS)]
-    weights = [0 if edge in outside else 1 for edge in edge_list(body)]
+    ties = [(lot_of[one], lot_of[other]) for one, other in web_ties(body, FACES)]
+    weights = [0 if edge in inside else 1 for edge in edge_list(body)]
     return sum_of_trees(ties, weights, len(lots))
 
 
@@ -97,16 +99,21 @@ def share(body, edge):
 def tree_at(body, index):
     """The tree of edges with an index in the ascending list of all."""
     check_body(body)
-    check_number(index, 0, _count_with(body, (), ()) - 1)
-    inside, outside = (), ()
-    for edge in edge_list(body):
-        having = _count_with(body, inside + (edge,), outside)
-        if index < having:
-            inside = inside + (edge,)
+    total, rows = tally(body)
+    check_number(index, 0, total - 1)
+    tree = []
+    for one, other in edge_list(body):
+        push = push_between(rows, one, other)
+        # What differs at both faces is the number of trees of faces that have their edge.
+        having = total - push[one] + push[other]
+        taken = index < having
+        if taken:
+            tree.append((one, other))
         else:
             index = index - having
-            outside = outside + (edge,)
-    return inside
+        if 0 < having < total:
+            total, rows = _behind_edge(total, rows, push, having, taken)
+    return tuple(tree)
 
 
 def index_of(body, tree):
@@ -114,14 +121,24 @@ def index_of(body, tree):
     check_body(body)
     check_tree(body, tree)
     index = 0
-    inside, outside = (), ()
-    for edge in edge_list(body):
-        if edge in tree:
-            inside = inside + (edge,)
-        else:
-            index = index + _count_with(body, inside + (edge,), outside)
-            outside = outside + (edge,)
+    total, rows = tally(body)
+    for one, other in edge_list(body):
+        push = push_between(rows, one, other)
+        having = total - push[one] + push[other]
+        taken = (one, other) in tree
+        if not taken:
+            index = index + having
+        if 0 < having < total:
+            total, rows = _behind_edge(total, rows, push, having, taken)
     return index
+
+
+def _behind_edge(total, rows, push, having, taken):
+    """The number of trees and the rows if an edge, which not all trees have or lack, is taken or is not."""
+    # An edge of the tree is gone from the faces' web; any other one ties its faces to be as one.
+    fresh, sign = (having, 1) if taken else (total - having, -1)
+    return (fresh, [[(fresh * item + sign * own * more) // total for item, more in zip(row, push)]
+                    for own, row in zip(push, rows)])
 
 
 def tree_sum(body, weights):

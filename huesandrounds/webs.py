@@ -1,7 +1,7 @@
 """Both webs of a body: its corners tied by the edges, and its faces; the body is taken to be one."""
 
 from huesandrounds.errors import InvalidWeb
-from huesandrounds.solving import determinant, solve
+from huesandrounds.solving import adjugate, determinant, solve
 from huesandrounds.structure import corner_ties, edge_ends, edge_list
 
 CORNERS = "corners"
@@ -58,3 +58,17 @@ def trees_apart(ties, weights, size, ground, place):
     column = [1 if there == place else 0 for there in range(size) if there != ground]
     total, found = solve(balance(ties, weights, size, ground), column)
     return (total, tuple(found[:ground] + [0] + found[ground:]))
+
+
+def tally(body):
+    """The number of trees of faces, and for each face a row that tells how their web answers to a push at it.
+
+    The rows are those that undo what is told of the web without the face 0, times the number of trees.
+    """
+    total, rows = adjugate(balance(edge_list(body), plain_weights(body), len(body), 0))
+    return (total, [[0] * len(body)] + [[0] + row for row in rows])
+
+
+def push_between(rows, one, other):
+    """How the web of the faces answers, at each, to a push from one face to another one."""
+    return [item - more for item, more in zip(rows[one], rows[other])]

@@ -13,39 +13,57 @@ MOST_SIGNS = 20
 MOST_FOR_WORDS = 7
 # Each sign with the like one of the other kind.
 EXCHANGED = {"(": "[", ")": "]", "[": "(", "]": ")"}
+# Each sign with the opening one of its kind.
+OPENING = {"(": "(", ")": "(", "[": "[", "]": "["}
 
 
 def is_word(value):
     """Whether any value is a word."""
     if not isinstance(value, str) or not LEAST_SIGNS <= len(value) <= MOST_SIGNS:
         return False
-    if not all([sign in EXCHANGED for sign in value]):
+    if value.count("(") != value.count(")") or value.count("[") != value.count("]"):
         return False
-    return _closes(value, "(", ")") and _closes(value, "[", "]")
-
-
-def _closes(text, opening, closing):
-    """Whether there are as many closing signs as opening ones, and never more from the beginning on."""
-    depths = [text[:at].count(opening) - text[:at].count(closing) for at in range(len(text) + 1)]
-    return min(depths) == 0 and depths[-1] == 0
+    depths = {"(": 0, "[": 0}
+    for sign in value:
+        if sign not in EXCHANGED:
+            return False
+        kind = OPENING[sign]
+        depths[kind] = depths[kind] + (1 if sign == kind else -1)
+        if depths[kind] < 0:
+            return False
+    return True
 
 
 def word(body, tour, corner, edge):
     """The word of a round that is walked from a corner along an edge."""
     check_walk(body, tour, corner, edge)
-    return _word_of(body, tour, walk_places(body, tour, corner, edge))
+    kinds = _kinds_left(body, tour)
+    return _word_of(kinds, _left_along(body, kinds, walk_places(body, tour, corner, edge)))
 
 
-def _word_of(body, tour, walk):
-    """The word of a round, given the places of all corners as they are walked."""
-    edges = edge_list(body)
-    around = corner_edges(body)
-    left = [[edge for edge in around[place] if edges[edge] not in tour][0] for place in walk]
+def _kinds_left(body, tour):
+    """For the place of each edge that a round leaves out, both signs of its kind."""
     inner = lands_by(body, tour)[0]
+    kinds = {}
+    for at, edge in enumerate(edge_list(body)):
+        if edge not in tour:
+            kinds[at] = "()" if edge[0] in inner else "[]"
+    return kinds
+
+
+def _left_along(body, kinds, walk):
+    """The list of the places of the edges that are left out, one for each corner of a walk."""
+    around = corner_edges(body)
+    return [edge for corner in walk for edge in around[corner] if edge in kinds]
+
+
+def _word_of(kinds, left):
+    """The word of a round by the kinds of what it leaves out, and the edges left out along it."""
+    met = {}
     signs = []
-    for at, own in enumerate(left):
-        kind = "()" if edges[own][0] in inner else "[]"
-        signs.append(kind[1] if own in left[:at] else kind[0])
+    for edge in left:
+        signs.append(kinds[edge][1 if edge in met else 0])
+        met[edge] = True
     return "".join(signs)
 
 
@@ -107,10 +125,13 @@ def words(body):
     check_size(body, MOST_FOR_WORDS)
     found = []
     for tour in round_list(body):
-        for corner in corner_list(body):
-            a, b, c = corner
-            ways = [edge for edge in ((a, b), (a, c), (b, c)) if edge in tour]
-            found.extend([_word_of(body, tour, walk_places(body, tour, corner, edge)) for edge in ways])
+        kinds = _kinds_left(body, tour)
+        corner = corner_list(body)[0]
+        first = [edge for edge in tour if edge[0] in corner and edge[1] in corner][0]
+        left = _left_along(body, kinds, walk_places(body, tour, corner, first))
+        # A walk from another corner, or the other way, goes by the same edges from another place on, or backwards.
+        for row in (left, left[::-1]):
+            found.extend([_word_of(kinds, row[at:] + row[:at]) for at in range(len(row))])
     # An alike body may have the face 0 in the other land.
     turned = ["".join([EXCHANGED[sign] for sign in text]) for text in found]
     return sorted(set(found + turned))

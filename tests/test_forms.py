@@ -42,6 +42,10 @@ class Renumbered(unittest.TestCase):
             self.assertTrue(all(is_body(row) for row in rows))
             self.assertEqual(plain(body), min(rows))
 
+    def test_plain_forms_are_the_least_of_all(self):
+        for body in some_bodies(5, 12, 8) + [K, ball(), mirrored(drawn(11, 3))]:
+            self.assertEqual(plain(body), min(renumbered(body, *way) for way in all_ways(body)))
+
     def test_faces_that_are_not_around_one_another(self):
         for start, after in ((0, 4), (4, 0), (0, 0), (4, 4)):
             with self.assertRaises(InvalidFace):

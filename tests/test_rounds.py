@@ -11,7 +11,7 @@ from huesandrounds.pairings import rings_left
 from huesandrounds.rounds import (count_rounds, count_through, hues_by, is_round, land_sums, lands, other_round,
                                   round_by, rounds)
 from tests.brute import all_rounds, corners_of, edges_of, lands_of
-from tests.support import F, K, P, R, ball, bent, drum, odd_integers, odd_values, some_bodies
+from tests.support import F, K, P, R, ball, bent, drawn, drum, odd_integers, odd_values, some_bodies
 
 
 def is_tree(body, faces):
@@ -63,6 +63,15 @@ class Rounds(unittest.TestCase):
                 many = count_through(body, edge)
                 self.assertEqual(many, sum(edge in tour for tour in slow))
                 self.assertEqual(many % 2, 0)
+
+    def test_through_all_edges_of_bodies_of_ten_faces(self):
+        for body in (drawn(10, 1), drawn(10, 2), drawn(10, 3), drum(8)):
+            tours = rounds(body)
+            numbers = [count_through(body, edge) for edge in edges_of(body)]
+            self.assertEqual(len(numbers), 24)
+            self.assertEqual(numbers, [sum(edge in tour for tour in tours) for edge in edges_of(body)])
+            # Each round has as many edges as there are corners.
+            self.assertEqual(sum(numbers), 16 * count_rounds(body))
 
     def test_other_round(self):
         for body in some_bodies(4, 10, 2) + [ball()]:

@@ -5,7 +5,7 @@ import unittest
 from itertools import combinations, permutations
 from math import gcd, prod
 
-from huesandrounds.solving import determinant, invariants_of, solve
+from huesandrounds.solving import adjugate, determinant, invariants_of, solve
 
 
 def slow_determinant(rows):
@@ -42,6 +42,20 @@ class Solving(unittest.TestCase):
                     self.assertEqual(total, slow_determinant(rows))
                     for row, item in zip(rows, column):
                         self.assertEqual(sum(a * b for a, b in zip(row, found)), total * item)
+
+    def test_what_undoes_rows(self):
+        dice = random.Random(4)
+        self.assertEqual(adjugate([]), (1, []))
+        for size in range(1, 7):
+            for _ in range(20):
+                half = drawn_rows(dice, size, 4)
+                rows = [[sum(a * b for a, b in zip(one, other)) for other in half] for one in half]
+                if slow_determinant(rows) != 0:
+                    total, found = adjugate(rows)
+                    self.assertEqual(total, slow_determinant(rows))
+                    columns = list(zip(*found))
+                    told = [[sum(a * b for a, b in zip(row, column)) for column in columns] for row in rows]
+                    self.assertEqual(told, [[total * (at == place) for at in range(size)] for place in range(size)])
 
     def test_invariants(self):
         dice = random.Random(3)

@@ -10,7 +10,7 @@ from huesandrounds.errors import InvalidEdges, InvalidNumber, InvalidWeb
 from huesandrounds.trees import (count_trees, index_of, is_edge_tree, is_face_tree, rest, share, tree_at, tree_sum,
                                  trees_with)
 from tests.brute import all_trees, edges_of, is_spanning
-from tests.support import F, K, P, ball, bent, drawn, drawn_tree, drum, odd_integers, odd_values, some_bodies
+from tests.support import F, K, P, Q, ball, bent, drawn, drawn_tree, drum, odd_integers, odd_values, some_bodies
 
 
 def small_bodies():
@@ -115,10 +115,13 @@ class Edges(unittest.TestCase):
 
 class Indexes(unittest.TestCase):
     def test_all_indexes(self):
-        for body in (F, P, K, drawn(6, 1)):
+        for body in (F, P, K, Q, drawn(6, 1), drawn(6, 2), drawn(6, 5), drawn(7, 1)):
             trees = all_trees(body)
-            self.assertEqual([tree_at(body, index) for index in range(len(trees))], trees)
-            self.assertEqual([index_of(body, tree) for tree in trees], list(range(len(trees))))
+            found = [tree_at(body, index) for index in range(len(trees))]
+            self.assertEqual(found, trees)
+            self.assertEqual(found, sorted(found))
+            self.assertEqual([index_of(body, tree) for tree in found], list(range(len(trees))))
+        self.assertEqual(len({tree_at(K, index) for index in range(384)}), 384)
 
     def test_great_bodies(self):
         dice = random.Random(2)

@@ -99,6 +99,22 @@ class Words(unittest.TestCase):
                 self.assertEqual(words(body), made[body])
                 self.assertEqual(count_words(body), len(made[body]))
 
+    def test_all_words_of_six_signs(self):
+        texts = ["".join(signs) for signs in product("()[]", repeat=6)]
+        made = [(text, body_of(text)) for text in texts if slow_is_word(text)]
+        self.assertEqual(len(made), 70)
+        self.assertEqual({body for _, body in made}, {None, plain(P)})
+        for body in {body for _, body in made if body is not None}:
+            self.assertEqual([text for text, other in made if other == body], words(body))
+            self.assertEqual(words(P), words(body))
+
+    def test_words_are_those_of_all_walks(self):
+        for body in some_bodies(4, 7, 2) + [K]:
+            found = {slow_word(body, tour, walk) for tour in all_rounds(body) for walk in slow_walks(body, tour)}
+            # The face 0 can be in the other land.
+            turned = {text.translate(str.maketrans("()[]", "[]()")) for text in found}
+            self.assertEqual(words(body), sorted(found | turned))
+
     def test_all_words_of_bodies_of_seven_faces(self):
         made = []
         for body in bodies(7):
