@@ -36,13 +36,13 @@ def perfect_gaps(body):
     check_body(body)
     _, rows = tally(body)
     edges = edge_list(body)
-    return [gap for gap in edges if _parts_all(edges, gap, push_between(rows, gap[1], gap[0]))]
+    # A still edge has an end that the gap has not; there both other edges have the same flow but for the sign.
+    return [gap for gap in edges if _are_unlike(edges, gap, push_between(rows, gap[1], gap[0]))]
 
 
-def _parts_all(edges, gap, places):
-    """Whether the flows of all edges but the gap, by places of the faces, are unlike without signs, and none is 0."""
-    sides = sorted([abs(places[edge[1]] - places[edge[0]]) for edge in edges if edge != gap])
-    return sides[0] > 0 and is_ascending(sides)
+def _are_unlike(edges, gap, places):
+    """Whether the flows of all edges but the gap, by places of the faces, are unlike without their signs."""
+    return is_ascending(sorted([abs(places[edge[1]] - places[edge[0]]) for edge in edges if edge != gap]))
 
 
 def is_filled(value):
@@ -68,11 +68,11 @@ def _are_squares(value):
 
 
 def _lie_apart(squares):
-    """Whether no two squares lie over one another but with their rims."""
+    """Whether no two of some ascending squares lie over one another but with their rims."""
     for at, (left, top, side) in enumerate(squares):
         for other_left, other_top, other_side in squares[:at]:
-            aside = left >= other_left + other_side or other_left >= left + side
-            if not aside and top < other_top + other_side and other_top < top + side:
+            # The other one begins no farther to the right.
+            if left < other_left + other_side and top < other_top + other_side and other_top < top + side:
                 return False
     return True
 

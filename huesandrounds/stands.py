@@ -38,11 +38,12 @@ def check_stand(value):
 
 def is_step(value):
     """Whether any value is a step."""
-    if not isinstance(value, tuple) or not 1 <= len(value) <= 3 or not isinstance(value[0], str):
+    if not isinstance(value, tuple) or len(value) == 0 or not isinstance(value[0], str):
         return False
-    if value[0] not in KINDS or len(value) != len(KINDS[value[0]]) + 1:
+    kinds = KINDS.get(value[0], ())
+    if value[0] not in KINDS or len(value) != len(kinds) + 1:
         return False
-    return all([_is_item(kind, item) for kind, item in zip(KINDS[value[0]], value[1:])])
+    return all([_is_item(kind, item) for kind, item in zip(kinds, value[1:])])
 
 
 def _is_item(kind, value):

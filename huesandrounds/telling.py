@@ -110,7 +110,7 @@ def bodies_told(faces, facts):
 
 def _is_told(value):
     """Whether any value is a pair of a word and a number."""
-    if not isinstance(value, tuple) or len(value) != 2 or not isinstance(value[0], str):
+    if not isinstance(value, tuple) or len(value) != 2:
         return False
     return value[0] in WORDS and is_within(value[1], 0, MOST_TOLD)
 

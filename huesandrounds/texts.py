@@ -168,10 +168,8 @@ def read_script(text):
 def _read_step(line):
     """The step that is written on a line, or what is no step."""
     words = line.split(" ")
-    kinds = KINDS.get(words[0], ())
-    if len(words) != len(kinds) + 1:
-        return ()
-    return (words[0],) + tuple([_read_item(kind, item) for kind, item in zip(kinds, words[1:])])
+    # Words too many are left out, and so missed in what is written again.
+    return (words[0],) + tuple([_read_item(kind, item) for kind, item in zip(KINDS.get(words[0], ()), words[1:])])
 
 
 def _read_item(kind, text):

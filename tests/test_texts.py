@@ -123,6 +123,13 @@ class Read(unittest.TestCase):
             with self.assertRaises(InvalidText, msg=value):
                 read_hues(F, value)
         self.assertEqual(read_hues(F, "012210"), H)
+        for at in range(6):
+            for sign in "x -+/O\n3":
+                with self.assertRaises(InvalidText, msg=(at, sign)):
+                    read_hues(F, "012210"[:at] + sign + "012210"[at + 1:])
+                if at < 4 and sign != "3":
+                    with self.assertRaises(InvalidText, msg=(at, sign)):
+                        read_faces(F, "3210"[:at] + sign + "3210"[at + 1:])
         for value in ("0122", "012", "01234", "0124", "012 3", "", "0 1 2 3", "0012"):
             with self.assertRaises(InvalidText, msg=value):
                 read_faces(F, value)

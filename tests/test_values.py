@@ -104,6 +104,15 @@ class Bodies(unittest.TestCase):
                     self.assertEqual((Body(*one) + Body(*other)).source, told)
                 hues, _, tours, _ = joined_counts(one, corners[0], other, corners[1])
                 self.assertEqual(Body(*one) | Body(*other), (hues, tours))
+        unlike = 0
+        bodies = [drawn(faces, seed) for faces in (9, 10) for seed in range(3)]
+        for one in bodies:
+            for other in bodies:
+                numbers = [[joined_counts(one, corner, other, last)[2] for last in corners_of(other)[:2]]
+                           for corner in corners_of(one)[:2]]
+                self.assertEqual((Body(*one) | Body(*other))[1], numbers[0][0])
+                unlike += numbers[0][0] not in (numbers[0][1], numbers[1][0])
+        self.assertGreater(unlike, 3)
         for one, other in ((ball(), F), (drum(8), drum(4)), (ball(), ball())):
             with self.assertRaises(TooMany) as told:
                 Body(*one) + Body(*other)
@@ -316,9 +325,16 @@ class Edges(unittest.TestCase):
         self.assertFalse(odd in Hues(F, *H))
         self.assertTrue(R in Hues(F, *H))
 
-    def test_some_are_not_one_chain(self):
-        found = {bool(Hues(body, *hues)) for body in some_bodies(7, 9, 3) + [K] for hues in edge_hues(body)[::3]}
-        self.assertEqual(found, {True, False})
+    def test_some_two_hues_are_one_chain(self):
+        found = set()
+        for body in some_bodies(7, 9, 3) + [K]:
+            for hues in edge_hues(body)[::3]:
+                ones = tuple(len(hue_rings(body, hues, hue)) == 1 for hue in range(3))
+                self.assertIs(bool(Hues(body, *hues)), any(ones))
+                found.add(ones)
+        # None, each of the three alone, and all of them.
+        self.assertGreaterEqual(found, {(False,) * 3, (True, False, False), (False, True, False), (False, False, True),
+                                        (True,) * 3})
 
     def test_kin(self):
         for body in some_bodies(4, 7, 1) + [K]:
