@@ -5,7 +5,7 @@ from huesandrounds.bodies import LEAST_FACES, check_body
 from huesandrounds.checking import check_face, check_number
 from huesandrounds.cutting import cut_at, spot_list
 from huesandrounds.errors import InvalidFace, InvalidTurning
-from huesandrounds.ordering import in_order, mirror_of, new_order
+from huesandrounds.ordering import in_new_order, mirror_of, new_order
 
 FOUR_FACES = ((1, 2, 3), (0, 3, 2), (0, 1, 3), (0, 2, 1))
 MOST_LISTED = 7
@@ -20,7 +20,7 @@ def renumbered(body, start, after, turning):
         raise InvalidFace("two faces that are not around one another")
     if not is_int(turning) or turning not in (1, -1):
         raise InvalidTurning("neither 1 nor -1")
-    return in_order(body, new_order(body, start, after, turning), turning)
+    return in_new_order(body, start, after, turning)
 
 
 def plain(body):
@@ -51,9 +51,9 @@ def own_turns(body):
 def is_own_mirror(body):
     """Whether some own turn makes of the body what `mirrored` tells."""
     check_body(body)
-    first = in_order(body, new_order(body, 0, body[0][0], 1), 1)
-    orders = _orders(body, _sides_at(body, 0, body[0][0]))
-    return first in [in_order(body, order, turning) for order, turning in orders if turning == -1]
+    first = in_new_order(body, 0, body[0][0], 1)
+    starts = _starts(body, _sides_at(body, 0, body[0][0]))
+    return first in [in_new_order(body, face, other, -1) for face, other in starts]
 
 
 def bodies(faces):
@@ -76,17 +76,19 @@ def plain_form(body):
     # The first ring has as many numbers as the first face has sides, 1, 2, 3 and so on, and the second one those of
     # the second face, all but the last one rising from these: the fewest sides make the least rings.
     least = min([_sides_at(body, face, other) for face in range(len(body)) for other in body[face]])
-    return min([in_order(body, order, turning) for order, turning in _orders(body, least)])
+    starts = _starts(body, least)
+    return min([in_new_order(body, face, other, turning) for face, other in starts for turning in (1, -1)])
 
 
 def turn_list(body):
     """The ascending list of all own turns of what is taken to be a body."""
-    start = new_order(body, 0, body[0][0], 1)
-    form = in_order(body, start, 1)
+    first = new_order(body, 0, body[0][0], 1)
+    form = in_new_order(body, 0, body[0][0], 1)
     found = []
-    for order, turning in _orders(body, _sides_at(body, 0, body[0][0])):
-        if in_order(body, order, turning) == form:
-            found.append(_led(start, order))
+    for face, other in _starts(body, _sides_at(body, 0, body[0][0])):
+        for turning in (1, -1):
+            if in_new_order(body, face, other, turning) == form:
+                found.append(_led(first, new_order(body, face, other, turning)))
     return sorted(found)
 
 
@@ -95,11 +97,10 @@ def _sides_at(body, face, other):
     return (len(body[face]), len(body[other]))
 
 
-def _orders(body, sides):
-    """A list of all orders, from two faces of some sides, by which a body is renumbered, each with its turning."""
+def _starts(body, sides):
+    """A list of all pairs of two faces of some sides that are around one another."""
     pairs = [(face, other) for face in range(len(body)) for other in body[face]]
-    starts = [(face, other) for face, other in pairs if _sides_at(body, face, other) == sides]
-    return [(new_order(body, face, other, turning), turning) for face, other in starts for turning in (1, -1)]
+    return [(face, other) for face, other in pairs if _sides_at(body, face, other) == sides]
 
 
 def _led(start, order):
